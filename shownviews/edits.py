@@ -2,7 +2,7 @@
 
 from shownviews.errors import NoMark
 from shownviews.rules import is_rule_of
-from shownviews.schemas import is_of_sorts, key_length, relation_of
+from shownviews.schemas import is_of_sorts, relation_of
 from shownviews.worths import is_integer, is_name, is_number, is_rising, is_small_integer, is_tuple_of
 
 LAST_LIFE = 999
@@ -15,7 +15,7 @@ def is_deed(schema, thing):
     if thing[0] in ("rule", "unrule"):
         return is_rule_deed(schema, thing)
     relation = relation_of(schema, thing[1])
-    return relation is not None and len(thing) > 2 and is_fact_deed(relation, thing)
+    return relation is not None and is_fact_deed(relation, thing)
 
 
 def is_rule_deed(schema, thing):
@@ -27,13 +27,13 @@ def is_rule_deed(schema, thing):
 
 
 def is_fact_deed(relation, thing):
-    """Whether a thing of three or four parts is a deed of the relation that stands in it."""
+    """Whether a tuple is a deed of the relation whose name stands in it."""
     _, kind, sorts = relation
     if thing[0] not in words_of(kind):
         return False
     if thing[0] == "add":
         return len(thing) == 4 and is_of_sorts(sorts[:-1], thing[2]) and is_amount(thing[3])
-    wanted = sorts[:key_length(relation)] if thing[0] == "take" else sorts
+    wanted = sorts[:kind] if thing[0] == "take" else sorts
     return len(thing) == 3 and is_of_sorts(wanted, thing[2])
 
 

@@ -59,12 +59,18 @@ def read_rule(schema, text):
 def rule_in(reader):
     head = asked_in(reader)
     reader.take(" if ")
-    body = [condition_in(reader)]
-    while reader.took(", "):
-        body.append(condition_in(reader))
+    body = listed(reader, condition_in)
     if not reader.is_done():
         raise NotRead()
-    return (head, tuple(body))
+    return (head, body)
+
+
+def listed(reader, read_one):
+    """The tuple of the things that stand here with commas between."""
+    told = [read_one(reader)]
+    while reader.took(", "):
+        told.append(read_one(reader))
+    return tuple(told)
 
 
 def condition_in(reader):
@@ -97,11 +103,9 @@ def asked_in(reader):
     """A name and the terms and blanks in the parentheses behind it."""
     name = read_name(reader)
     reader.take("(")
-    terms = [term_in(reader)]
-    while reader.took(", "):
-        terms.append(term_in(reader))
+    terms = listed(reader, term_in)
     reader.take(")")
-    return (name, tuple(terms))
+    return (name, terms)
 
 
 def term_in(reader):

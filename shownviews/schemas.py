@@ -32,20 +32,10 @@ def is_kind(thing, sorts):
 
 def relation_of(schema, name):
     """The relation of a name, None for what is no name of one."""
-    if not isinstance(name, str):
-        return None
     for relation in schema:
         if relation[0] == name:
             return relation
     return None
-
-
-def key_length(relation):
-    """How many places of the relation's rows are their key."""
-    _, kind, sorts = relation
-    if kind == "bag":
-        return len(sorts)
-    return len(sorts) - 1 if kind == "sum" else kind
 
 
 def is_of_sorts(sorts, thing):

@@ -2,7 +2,7 @@
 
 from shownviews.edits import both, is_deed, is_edit, is_life, lacking, number_in
 from shownviews.errors import NoDeed, NoEdit, NoLife, NotYet, OtherSchema
-from shownviews.schemas import check_schema, key_length, relation_of
+from shownviews.schemas import check_schema, relation_of
 from shownviews.worths import rows_in_order
 
 
@@ -79,7 +79,7 @@ def do_deed(schema, kept, edit):
     cells, sums, bags, rules = kept
     word = deed[0]
     if word == "put":
-        many = key_length(relation_of(schema, deed[1]))
+        many = relation_of(schema, deed[1])[1]
         put_later(cells, (deed[1], deed[2][:many]), (height, life, deed[2][many:]))
     elif word == "take":
         put_later(cells, (deed[1], deed[2]), (height, life, None))
@@ -151,16 +151,13 @@ def joined_entries(table, more):
 
 
 def joined_sums(one, other):
-    """Of each life the sums of the State that stands for more of its edits, which has all of them."""
-    sums = one.sums()
-    told = {key: sums[key] for key in sums if not_behind(one, other, key[2])}
+    """Of each life the sums of the State that stands for more of its edits, among which are all of the other one."""
+    told = one.sums()
     more = other.sums()
-    told.update({key: more[key] for key in more if not_behind(other, one, key[2])})
+    for key in more:
+        if number_in(other.mark, key[2]) > number_in(one.mark, key[2]):
+            told[key] = more[key]
     return told
-
-
-def not_behind(one, other, life):
-    return number_in(one.mark, life) >= number_in(other.mark, life)
 
 
 def joined_bags(one, other):

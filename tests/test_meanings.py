@@ -135,6 +135,18 @@ class Meanings(unittest.TestCase):
                 "own": rule("w", [X], ("is", "w", (X,)))}
         self.assertEqual(meaning(S, book, T), {"near": (("a", "b"), ("b", "c")), "w": ()})
 
+    def test_names_with_other_numbers_of_places(self):
+        two = rule("x", [X, X], ("is", "near", (X, ANY)))
+        book = {"a": two, "b": rule("x", [1], ("is", "near", (ANY, ANY))), "c": rule("y", [X], ("is", "x", (X, X))),
+                "d": rule("z", [X], ("is", "w", (X,))), "e": rule("w", [1, 1], ("is", "near", (ANY, ANY))), "f": NEAR}
+        self.assertEqual(meaning(S, book, T), {"near": (("a", "b"), ("b", "c")), "w": ((1, 1),)})
+
+    def test_words_that_are_names_of_the_layer(self):
+        book = {"one": rule("x", [X], ("is", "link", (X, ANY)), ("less", "x", "y"), ("unlike", "x", X)),
+                "two": rule("x", [X], ("is", "x", (Y,)), ("same", "x", "x"), ("is", "link", (Y, X)))}
+        self.assertEqual(meaning(S, book, T), {"x": (("a",), ("b",), ("c",))})
+        self.assertEqual(rounds(S, book, T, "x"), 2)
+
     def test_a_rule_without_variables(self):
         self.assertEqual(rows("x", [1], ("unlike", 1, 2)), ((1,),))
         self.assertEqual(meaning(M, {"one": rule("x", [1], ("not", "y", (1,))), "two": rule("y", [1], ("less", 2, 1))},
@@ -239,7 +251,8 @@ class Errors(unittest.TestCase):
                       (["a", "b"],), ("ab",), (("a", True),), (("a", "b" * 21),), (("a", "\n"),), ("a", "b"), (None,),
                       (("a", "b"), ("a", None))):
             self.no_tables({**T, "link": found})
-        for found in ((("a", True),), (("a", "1"),), (("a", 2), ("a", 1)), ((1, 1),), (("a", None),)):
+        for found in ((("a", True),), (("a", "1"),), (("a", 2), ("a", 1)), ((1, 1),), (("a", None),), (None,), ((),),
+                      (("a",),), (("a", 1, 1),), (["a", 1],), ("a",), (1,), ({},)):
             self.no_tables({**T, "stock": found})
 
     def test_integers_of_any_size_stand_last_in_sums_alone(self):

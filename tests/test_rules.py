@@ -97,6 +97,10 @@ class Rules(unittest.TestCase):
             self.bad(("is", name, (1,)), ("not", name, (1,)), ("many", 0, name, (1,)), ("least", 0, name, (ANY,), 0))
             self.assertIs(is_rule(S, ((name, (1,)), NEAR[1])), False)
 
+    def test_heads(self):
+        for head in (("near",), ("near", (1,), (1,)), ["near", (1,)], "near", (), None, ("near", 1), ((1,), "near")):
+            self.assertIs(is_rule(S, (head, NEAR[1])), False)
+
     def test_no_name_of_the_schema_in_the_head(self):
         for name in ("link", "name", "stock"):
             self.assertIs(is_rule(S, ((name, (v(0), v(1))), NEAR[1])), False)

@@ -21,7 +21,7 @@ TEXTS = [
     ("least", ("least", 19, "x", (ANY,), 0), "?19 = least x(_) 0"),
     ("greatest", ("greatest", 1, "x", (1, 2, 3, 4, ANY), 4), "?1 = greatest x(1, 2, 3, 4, _) 4"),
 ]
-NAMED = ("is", "not", "if", "less", "same", "unlike", "many", "sum", "least", "greatest", "any", "a", "abcdefgh")
+NAMED = ("is", "not", "if", "less", "same", "unlike", "many", "sum", "least", "greatest", "any", "a", "z", "zzzzzzzz")
 WORTHS = (0, 7, -7, 10 ** 20 - 1, 1 - 10 ** 20, "", "'", "~", "''", "~~", "~'", "'~", "a'b~c",
           ") if x(", ", ", "?0", "_", "7", " ", "(", "a" * 20, "'" * 20, "~" * 20, " = many x(_)")
 

@@ -223,6 +223,7 @@ class Joined(unittest.TestCase):
         self.assertRaises(OtherSchema, joined, State(S[1:]), State(S))
         for thing in (None, 1, (), {}, S, "x"):
             self.assertRaises(OtherSchema, joined, State(S), thing)
+            self.assertRaises(OtherSchema, joined, thing, State(S))
 
 
 class Equality(unittest.TestCase):
@@ -245,6 +246,19 @@ class Equality(unittest.TestCase):
                       (1, 1, 1, (), ("take", "name", ("x",)))):
             self.assertFalse(base == state_from([other]))
         self.assertTrue(base == state_from([first]))
+
+    def test_each_part_counts_where_all_others_are_alike(self):
+        pairs = [(("put", "name", ("k", "v")), ("put", "name", ("k", "w"))),
+                 (("put", "name", ("k", "v")), ("take", "name", ("k",))),
+                 (("add", "stock", ("x",), 1), ("add", "stock", ("x",), 2)),
+                 (("bring", "link", ("a", "b")), ("bring", "link", ("a", "c"))),
+                 (("rule", "one", NEAR), ("rule", "one", FAR)), (("rule", "one", NEAR), ("unrule", "one"))]
+        for deed, other in pairs:
+            self.assertFalse(state_from([(1, 1, 1, (), deed)]) == state_from([(1, 1, 1, (), other)]))
+            self.assertTrue(state_from([(1, 1, 1, (), deed)]) == state_from([(1, 1, 1, (), deed)]))
+        drop = ("drop", "link", ("a", "b"))
+        self.assertFalse(state_from([(1, 1, 1, (), drop)]) == state_from([(1, 1, 2, (), drop)]))
+        self.assertFalse(state_from([(1, 1, 1, (), drop)]) == state_from([(2, 1, 1, (), drop)]))
 
 
 class Errors(unittest.TestCase):
