@@ -21,11 +21,24 @@ def check_book(schema, book):
         raise NoBook()
 
 
+def titles_by_head(book):
+    """From each derived name to the names of its rules, ascending."""
+    told = {}
+    for title in sorted(book):
+        told.setdefault(head_name(book[title]), []).append(title)
+    return told
+
+
 def bar(schema, book, name):
     """Why a name tells nothing: the pair ("unsafe", rule), ("places", rule) or ("ring", names), None if it tells."""
     check_book(schema, book)
     if not is_name(name):
         raise NoName()
+    return bar_of(schema, book, name)
+
+
+def bar_of(schema, book, name):
+    """As bar, of what is a schema, a book and a name already."""
     links = links_of(book)
     hung = hung_on(links, name)
     titles = [title for title in sorted(book) if head_name(book[title]) in hung]

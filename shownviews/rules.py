@@ -3,7 +3,7 @@
 from shownviews.errors import NoRows
 from shownviews.ruleparts import BLANK, COMPARISONS, COUNTS
 from shownviews.schemas import check_schema, relation_of
-from shownviews.worths import is_free_worth, is_name, is_number, is_tuple_of, is_worth, rows_in_order
+from shownviews.worths import is_free_row, is_name, is_number, is_tuple_of, is_worth, rows_in_order
 
 VARIABLES = 20
 
@@ -91,8 +91,3 @@ def ordered(rows):
     if not isinstance(rows, (list, tuple)) or not all([is_free_row(row) for row in rows]):
         raise NoRows()
     return rows_in_order(rows)
-
-
-def is_free_row(thing):
-    """Whether a thing is a row of any relation, integers in it of any size."""
-    return is_tuple_of(thing, 1, 5) and all([is_free_worth(worth) for worth in thing])

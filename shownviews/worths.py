@@ -45,6 +45,11 @@ def is_tuple_of(thing, least, most):
     return isinstance(thing, tuple) and least <= len(thing) <= most
 
 
+def is_free_row(thing):
+    """Whether a thing is a row of any relation, integers in it of any size."""
+    return is_tuple_of(thing, 1, 5) and all([is_free_worth(worth) for worth in thing])
+
+
 def is_rising(keys):
     """Whether each of the keys is less than the one behind it."""
     return all([low < high for low, high in zip(keys, keys[1:])])
@@ -57,6 +62,16 @@ def worth_key(worth):
 
 def row_key(row):
     return tuple([worth_key(worth) for worth in row])
+
+
+def fact_key(fact):
+    """Facts, pairs (name, row), are ordered by their names, then by their rows."""
+    return (fact[0], row_key(fact[1]))
+
+
+def known_places(terms):
+    """The ascending tuple of the places at which worths stand among worths and None."""
+    return tuple([at for at, worth in enumerate(terms) if worth is not None])
 
 
 def rows_in_order(rows):

@@ -4,7 +4,9 @@ import unittest
 
 from shownviews.books import bar
 from shownviews.edits import both, lacking
+from shownviews.lots import answer
 from shownviews.meanings import meaning
+from shownviews.mixing import fact_text
 from shownviews.ruletexts import rule_text
 from shownviews.states import State, next_edit
 from tests.helpers import FAR, NEAR, S, T
@@ -27,3 +29,9 @@ class Examples(unittest.TestCase):
 
     def test_e05(self):
         self.assertEqual(rule_text(FAR), "near(?0, ?2) if near(?0, ?1), link(?1, ?2)")
+
+    def test_e06(self):
+        self.assertEqual(answer(S, {"one": NEAR, "two": FAR}, (), T, ("near", ("a", None))), (("a", "b"), ("a", "c")))
+
+    def test_e07(self):
+        self.assertEqual(fact_text(("stock", ("a~b", -3))), "stock('a~~b',-3)")
