@@ -125,11 +125,11 @@ def is_enough(part, ahead, behind, stretches):
 
 def clash(p, one, other):
     """A pair of unlike texts of one mixing, the first one mixed in the one showing, the second in the other, None
-    without; also of equal showings, and of those that have not one root pair."""
+    without, and of showings that have not one root pair. Equal showings may hold one, too."""
     check_prime(p)
     mine = read_part(p, one)
     theirs = read_part(p, other)
-    if one == other or (mine.number, mine.many) != (theirs.number, theirs.many):
+    if (mine.number, mine.many) != (theirs.number, theirs.many):
         return None
     found = {}
     for number, text in texts_in(mine):

@@ -306,7 +306,7 @@ class Clashes(unittest.TestCase):
         mine, theirs = slow_texts(p, one), slow_texts(p, other)
         pairs = [(a, b) for a in mine for b in theirs if a != b and slow_mix(p, a) == slow_mix(p, b)]
         if found is None:
-            self.assertEqual(pairs if one != other else [], [])
+            self.assertEqual(pairs, [])
         else:
             self.assertIn(found, pairs)
             self.assertIs(is_clash(p, found), True)
@@ -335,9 +335,30 @@ class Clashes(unittest.TestCase):
                     self.assertNotEqual(read(p, roots(one), mine, stretches), read(p, roots(one), theirs, stretches))
                     self.assertIsNotNone(self.told(p, mine, theirs))
                     self.assertIsNotNone(self.told(p, theirs, mine))
-                    self.assertIsNone(self.told(p, mine, mine))
+                    self.told(p, mine, mine)
                     seen += 1
         self.assertEqual(seen, 18)
+
+    def test_equal_showings(self):
+        """A showing has a clash with itself just if two unlike texts of one mixing are mixed in it."""
+        leaf = ("leaf", (("a", (32,)), ("a", (48,))))
+        self.assertIn(self.told(1009, leaf, leaf), (("a(32)", "a(48)"), ("a(48)", "a(32)")))
+        self.assertIsNone(self.told(1009, ("leaf", leaf[1][:1]), ("leaf", leaf[1][:1])))
+        found = {True: 0, False: 0}
+        for rank in (0, 1, 2):
+            low, high = self.twins(1013, rank, 5)
+            for more in ((), (("c", (1,)),), tuple(("a", (n,)) for n in range(4))):
+                both = shown(Tree(1013, in_order([*more, low, high])), WHOLE)
+                self.assertIsNotNone(self.told(1013, both, both))
+                # What is cut is not mixed.
+                cut = shown(Tree(1013, in_order([*more, low, high])), (("none", None, None),))
+                found[self.told(1013, cut, cut) is None] += 1
+        for seed in range(30):
+            tree = Tree(1009, random_facts(random.Random(seed), 12))
+            for stretches in (WHOLE, (STRETCHES[seed % len(STRETCHES)],)):
+                one = shown(tree, stretches)
+                found[self.told(1009, one, one) is None] += 1
+        self.assertGreater(min(found.values()), 3, found)
 
     def test_leaves_of_one_mixing(self):
         p = 1009
@@ -364,7 +385,7 @@ class Clashes(unittest.TestCase):
             found[self.told(p, one, other) is None] += 1
         self.assertGreater(min(found.values()), 3, found)
 
-    def test_none_for_equal_ones_and_others(self):
+    def test_none_without_and_for_other_root_pairs(self):
         p = 2 ** 61 - 1
         tree = Tree(p, random_facts(random.Random(1), 30))
         more = with_fact(tree, ("zz", (1,)))
@@ -375,9 +396,6 @@ class Clashes(unittest.TestCase):
         low, high = self.twins(1009, 0, 0)
         for one, other in (((low,), ()), ((low,), (("a", (1,)), high))):
             self.assertIsNone(clash(1009, shown(Tree(1009, one), WHOLE), shown(Tree(1009, other), WHOLE)))
-        # Also where facts of one showing have one number.
-        both = shown(Tree(1009, in_order([low, high])), WHOLE)
-        self.assertIsNone(clash(1009, both, both))
 
     def test_is_clash(self):
         p = 1009
