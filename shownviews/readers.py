@@ -54,8 +54,24 @@ class Reader:
         self.at += 1
         return self.text[self.at - 1]
 
+    def take_many(self, many):
+        """So many signs, whichever they are."""
+        if self.at + many > len(self.text):
+            raise NotRead()
+        self.at += many
+        return self.text[self.at - many:self.at]
+
     def sees_letter(self):
         return not self.is_done() and "a" <= self.text[self.at] <= "z"
+
+    def sees_digit(self):
+        return not self.is_done() and "0" <= self.text[self.at] <= "9"
+
+
+def need(flag):
+    """What is read goes on only where something holds of it."""
+    if not flag:
+        raise NotRead()
 
 
 def read_name(reader):

@@ -8,7 +8,8 @@ from shownviews.lots import answer
 from shownviews.meanings import meaning
 from shownviews.mixing import fact_text
 from shownviews.ruletexts import rule_text
-from shownviews.states import State, next_edit
+from shownviews.states import State, next_edit, with_edit
+from shownviews.texts import edit_text, state_text
 from tests.helpers import FAR, NEAR, S, T
 
 
@@ -35,3 +36,11 @@ class Examples(unittest.TestCase):
 
     def test_e07(self):
         self.assertEqual(fact_text(("stock", ("a~b", -3))), "stock('a~~b',-3)")
+
+    def test_e08(self):
+        self.assertEqual(edit_text((7, 1, 1, (), ("bring", "link", ("a", "b")))), "7 1 1 - bring link 'a','b'")
+
+    def test_e09(self):
+        state = with_edit(with_edit(State(S), (7, 1, 1, (), ("bring", "link", ("a", "b")))),
+                          (7, 2, 2, ((7, 1),), ("add", "stock", ("x",), 3)))
+        self.assertEqual(state_text(state), "7:2 2 ; sum stock 'x' 7 3 ; bag link 'a','b' 7:1")

@@ -29,12 +29,20 @@ FUNCTIONS = {
               "looked": "one other"},
     "showings": {"shown": "tree stretches", "root_of": "p showing", "read": "p root showing stretches",
                  "clash": "p one other", "is_clash": "p thing"},
+    "roots": {"tree_of": "p state", "root_number": "p state"},
+    "disks": {"record": "number body", "records": "text"},
+    "texts": {"edit_text": "edit", "state_text": "state", "read_edit": "schema text", "read_state": "schema text"},
+    "stores": {"begun": "disk body"},
 }
 CLASSES = {
     "states": ("State", {"__init__": "schema", "cells": "", "sums": "", "bags": "", "rules": "", "__eq__": "other"}),
     "views": ("View", {"__init__": "schema book tables", "rows": "name", "tables": "", "book": "", "change": "gone come",
                        "rule": "name rule", "looks": ""}),
     "trees": ("Tree", {"__init__": "p facts", "__eq__": "other"}),
+    "disks": ("Disk", {"__init__": "areas room", "texts": "", "put": "area text", "clear": "area", "sure": "",
+                       "open_deeds": "", "fall": "kept", "copy": ""}),
+    "stores": ("Store", {"__init__": "disk", "where": "", "generation": "", "first": "", "entries": "", "add": "body now",
+                         "turn": "body", "sure": "", "fall": "kept"}),
 }
 
 

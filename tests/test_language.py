@@ -98,7 +98,7 @@ class Language(unittest.TestCase):
             if isinstance(node.value, str):
                 self.assertNotIn("%", node.value, name)
         for name, node in walk(ast.Call):
-            self.assertNotIn(getattr(node.func, "attr", ""), ("sort", "add", "discard"), name)
+            self.assertNotIn(getattr(node.func, "attr", ""), ("sort", "discard"), name)
 
     def test_names(self):
         for name, tree in TREES.items():
@@ -107,6 +107,7 @@ class Language(unittest.TestCase):
             names = [node for node in ast.walk(tree) if isinstance(node, ast.Name)]
             bound = [node.id for node in names if isinstance(node.ctx, ast.Store)]
             bound += [node.arg for node in ast.walk(tree) if isinstance(node, ast.arg)]
+            bound += [node.name for node in ast.walk(tree) if isinstance(node, ast.ExceptHandler) and node.name]
             self.assertEqual([one for one in bound if one in taken], [], name)
             bound += [node.name for node in ast.walk(tree) if isinstance(node, (ast.FunctionDef, ast.ClassDef))]
             for one in bound:
@@ -148,7 +149,8 @@ class Language(unittest.TestCase):
         for name, node in walk(ast.Raise):
             self.assertTrue(isinstance(node.exc, ast.Call) and node.exc.func.id in own, name)
         for name, node in walk(ast.ExceptHandler):
-            self.assertIn(node.type.id, own, name)
+            for one in node.type.elts if isinstance(node.type, ast.Tuple) else [node.type]:
+                self.assertIn(one.id, own, name)
         for name, node in walk(ast.Try):
             self.assertEqual(node.finalbody, [], name)
 
