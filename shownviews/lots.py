@@ -41,11 +41,23 @@ def answer(schema, book, plan, tables, question):
 def closed_lot(schema, book, plan, tables, question):
     """The pair of the patterns asked and of the claims of the closed lot with the fewest of them."""
     check_planned(schema, book, plan, tables, question)
+    return whole_answer(schema, book, plan, tables, question)[1]
+
+
+def whole_answer(schema, book, plan, tables, question):
+    """The triple of the rows that fit a question, of the least closed lot for it and of this one's trace, of what is
+    checked already."""
     relations = relations_for(book, tables, question[0])
     asker = Asker(book, relations)
     orders = orders_in(plan)
     asked = sorted(asker.least_asked(orders, question), key=pattern_key)
-    return (tuple(asked), claims(book, relations, asker, orders, asked))
+    lot = (tuple(asked), claims(book, relations, asker, orders, asked))
+    rows = rows_in_order(relations.fitting(question[0], question[1]))
+    return (rows, lot, trace_of(schema, asker, orders, asked, question))
+
+
+def trace_of(schema, asker, orders, asked, question):
+    return tuple(sorted(asker.stretches(schema, orders, asked, question), key=stretch_key))
 
 
 def claims(book, relations, asker, orders, asked):
@@ -78,7 +90,7 @@ def trace(schema, book, plan, tables, question, lot):
     asker = closed_asker(book, orders, relations_of(tables), question, lot)
     if asker is None:
         raise NoClosed()
-    return tuple(sorted(asker.stretches(schema, orders, lot[0], question), key=stretch_key))
+    return trace_of(schema, asker, orders, lot[0], question)
 
 
 def seeks(schema, book, plan, tables, question):

@@ -33,6 +33,11 @@ FUNCTIONS = {
     "disks": {"record": "number body", "records": "text"},
     "texts": {"edit_text": "edit", "state_text": "state", "read_edit": "schema text", "read_state": "schema text"},
     "stores": {"begun": "disk body"},
+    "houses": {"house_at": "schema p disk", "house_text": "house"},
+    "papers": {"answer_of": "p state plan question", "least_paper": "p state question",
+               "judge": "schema p root question answer", "witness": "schema p question one other", "cost": "answer"},
+    "things": {"packed": "thing", "unpacked": "text"},
+    "worlds": {}, "desks": {},
 }
 CLASSES = {
     "states": ("State", {"__init__": "schema", "cells": "", "sums": "", "bags": "", "rules": "", "__eq__": "other"}),
@@ -43,6 +48,13 @@ CLASSES = {
                        "open_deeds": "", "fall": "kept", "copy": ""}),
     "stores": ("Store", {"__init__": "disk", "where": "", "generation": "", "first": "", "entries": "", "add": "body now",
                          "turn": "body", "sure": "", "fall": "kept"}),
+    "houses": ("House", {"__init__": "life schema p disk", "life": "", "state": "", "stands": "", "root": "", "kept": "",
+                         "gone": "", "aside": "", "faults": "", "rows": "name", "looks": "", "write": "token deed",
+                         "ask": "token question", "have": "", "hear": "letter", "forget": "mark", "turn": "",
+                         "fall": "kept"}),
+    "worlds": ("World", {"__init__": "schema p many areas room", "do": "deed", "house": "number", "bag": "",
+                         "token": "client", "told": "", "quiet": ""}),
+    "desks": ("Desk", {"__init__": "schema p", "tell": "line", "lines": "", "state": ""}),
 }
 
 
