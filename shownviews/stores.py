@@ -14,7 +14,7 @@ class Store:
         if found is None:
             raise NoStore()
         self._disk = disk
-        self._area, self._number, self._first, self._entries = found
+        self._area, self._generation, self._first, self._entries = found
         self._many_signs = len(self._first_record()) + sum([len(line) for line in entry_records(self._entries)])
         self._is_down = False
 
@@ -25,7 +25,7 @@ class Store:
 
     def generation(self):
         self._check_up()
-        return self._number
+        return self._generation
 
     def first(self):
         self._check_up()
@@ -71,7 +71,7 @@ class Store:
             raise Down()
 
     def _first_record(self):
-        return record(self._number, FIRST + self._first)
+        return record(self._generation, FIRST + self._first)
 
     def _put(self, body, line):
         self._disk.put(self._area, line)
@@ -81,13 +81,13 @@ class Store:
     def _begin(self, body, more):
         """Begins a new generation, if there is room for so many signs more."""
         # There is no record of a greater number.
-        if self._number == GREATEST_NUMBER:
+        if self._generation == GREATEST_NUMBER:
             raise TooSmall()
-        line = record(self._number + 1, FIRST + body)
+        line = record(self._generation + 1, FIRST + body)
         if len(line) + more > self._disk.room:
             raise TooSmall()
         self._area = (self._area + 1) % len(self._disk.texts())
-        self._number += 1
+        self._generation += 1
         self._first = body
         self._entries = []
         self._many_signs = len(line)
@@ -135,7 +135,8 @@ def begun(disk, body):
     line = record(1, FIRST + body)
     if len(line) > disk.room:
         raise TooSmall()
-    for area in range(len(disk.texts())):
+    many = len(disk.texts())
+    for area in range(many):
         disk.clear(area)
     disk.put(0, line)
     disk.sure()

@@ -102,7 +102,7 @@ class StateReader:
     def state(self):
         self._mark = mark_in(self._reader)
         need(is_mark(self._mark))
-        self._height = self._number()
+        self._height = self._read_number()
         need((self._height == 0) == (self._mark == ()))
         while self._reader.took(BETWEEN):
             self._read_part()
@@ -112,18 +112,18 @@ class StateReader:
 
     def _read_part(self):
         word = read_name(self._reader)
-        name = self._name()
+        name = self._read_name()
         if word == "rule":
             need(is_name(name))
-            self._rules[name] = (*self._tall_and_life(), self._rule())
+            self._rules[name] = (*self._read_tall_and_life(), self._read_rule())
             return
         relation = relation_of(self._schema, name)
         need(relation is not None)
         _, kind, sorts = relation
         if word == "cell":
             need(is_number(kind))
-            key = self._row(sorts[:kind])
-            self._cells[(name, key)] = (*self._tall_and_life(), self._rest(sorts[kind:]))
+            key = self._read_row(sorts[:kind])
+            self._cells[(name, key)] = (*self._read_tall_and_life(), self._read_rest(sorts[kind:]))
         else:
             need(word == kind)
             self._read_facts(name, kind, sorts)
@@ -131,55 +131,55 @@ class StateReader:
     def _read_facts(self, name, kind, sorts):
         """What a sum or a bag keeps of a key or row."""
         if kind == "sum":
-            key = self._row(sorts[:-1])
-            life = self._life()
+            key = self._read_row(sorts[:-1])
+            life = self._read_life()
             self._reader.take(" ")
             self._sums[(name, key, life)] = read_integer(self._reader, MOST_DIGITS)
         else:
-            row = self._row(sorts)
-            self._bags[(name, row)] = self._brings()
+            row = self._read_row(sorts)
+            self._bags[(name, row)] = self._read_brings()
 
-    def _name(self):
+    def _read_name(self):
         self._reader.take(" ")
         return read_name(self._reader)
 
-    def _number(self):
+    def _read_number(self):
         self._reader.take(" ")
         return read_number(self._reader, MOST_DIGITS)
 
-    def _life(self):
+    def _read_life(self):
         """A life for edits of which the mark stands."""
-        life = self._number()
+        life = self._read_number()
         need(number_in(self._mark, life) > 0)
         return life
 
-    def _tall_and_life(self):
+    def _read_tall_and_life(self):
         """The pair of a height, which is not above the State's, and of a life."""
-        height = self._number()
+        height = self._read_number()
         need(1 <= height <= self._height)
-        return (height, self._life())
+        return (height, self._read_life())
 
-    def _row(self, sorts):
+    def _read_row(self, sorts):
         self._reader.take(" ")
-        return self._row_here(sorts)
+        return self._read_row_here(sorts)
 
-    def _row_here(self, sorts):
+    def _read_row_here(self, sorts):
         row = row_in(self._reader, sorts)
         need(is_of_sorts(sorts, row))
         return row
 
-    def _rest(self, sorts):
+    def _read_rest(self, sorts):
         self._reader.take(" ")
         if self._reader.took(NONE):
             return None
         self._reader.take("=")
-        return self._row_here(sorts)
+        return self._read_row_here(sorts)
 
-    def _rule(self):
+    def _read_rule(self):
         self._reader.take(" ")
         return None if self._reader.took(NONE) else quoted_rule_in(self._schema, self._reader)
 
-    def _brings(self):
+    def _read_brings(self):
         """The pairs (life, number) of brings for which the mark stands, one at least."""
         self._reader.take(" ")
         told = mark_in(self._reader)
