@@ -3,7 +3,7 @@
 from shownviews.asides import Aside
 from shownviews.deedtexts import mark_text
 from shownviews.disks import LEAST_ROOM, Disk
-from shownviews.edits import holds, is_life, is_mark, lacking
+from shownviews.edits import holds, is_life, lacking
 from shownviews.errors import BadStore, Down, NoLetter, NoLife, NoMark, NotYet, TooSmall
 from shownviews.holdings import can_be_done, first_body, fresh_holding, has_edit, holding_of, is_entry_done
 from shownviews.letters import answers_to_have, have_of, is_letter
@@ -133,7 +133,8 @@ class House:
     def forget(self, mark):
         """Keeps no edits any more for which a mark stands."""
         self._check_up()
-        if not is_mark(mark) or not holds(self.stands(), mark):
+        # This tells NoMark of what is none, too.
+        if not holds(self.stands(), mark):
             raise NoMark()
         self._enter(f"gone {mark_text(mark)}")
         self._holding.forget(mark)
@@ -154,8 +155,7 @@ class House:
             raise Down()
 
     def _check_token(self, token):
-        if not is_mark(token):
-            raise NoMark()
+        # This tells NoMark of what is none.
         lacks = lacking(self.stands(), token)
         if lacks:
             raise NotYet(lacks)

@@ -1,6 +1,6 @@
 """The trees of States, and the root numbers that their marks and trees have."""
 
-from shownviews.mixing import check_prime, mixed, numbers_text
+from shownviews.mixing import mixed, numbers_text
 from shownviews.ruletexts import rule_text
 from shownviews.states import tables, titles
 from shownviews.trees import Tree
@@ -29,6 +29,5 @@ def root_text(mark, number, many):
 
 def root_number(p, state):
     """The number that hangs on a State's mark, and on what its tables and titles tell, alone."""
-    check_prime(p)
     tree = tree_of(p, state)
     return mixed(p, root_text(state.mark, tree.number, tree.many))

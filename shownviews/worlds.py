@@ -102,7 +102,7 @@ class World:
     def _up(self, number):
         """The house of a number, None while it is down."""
         house = self._houses[number]
-        return None if house is None or is_fallen(house) else house
+        return None if is_fallen(house) else house
 
     def _is_house(self, thing):
         return is_number(thing) and thing in self._houses

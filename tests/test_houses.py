@@ -492,7 +492,8 @@ class Hearing(unittest.TestCase):
                ("edits", 9, (), (edit,) * 21), ("edits", 9, None, (edit,)), ("edits", 9, (), (edit, None)), ("edits", 9, (), ((9, 1, 1, (), None),)),
                ("edits", 9, (), ((9, 2, 2, (), BRING),)), ("edits", 9, (), (list(edit),)), ("edits", 9, (), (edit,), ()), ("state", 9, State(OTHER)), ("state", 9, None),
                ("state", 9, (), state), ("state", 9, state, ()), ("state", 9, "- 0"), ("state", 0, state), ("root", 9, ()), ("root", 9, (), -1), ("root", 9, (), None),
-               ("root", 9, (), True), ("root", 9, (), "5"), ("root", 9, None, 5), ("root", 9, (), 5, 5), ("edits", 1000, (), (edit,)), ("root", 9.0, (), 5)]
+               ("root", 9, (), True), ("root", 9, (), "5"), ("root", 9, None, 5), ("root", 9, (), 5, 5), ("edits", 1000, (), (edit,)), ("root", 9.0, (), 5), ("Root", 9, (), 5), ("have", 9, (), 5), ("state", 9, (), 5),
+               ("have", 9, (), (edit,)), ("", 9, (), 5)]
         for thing in odd_things():
             bad += [thing, (thing, 9, ()), ("have", thing if thing != 1 or thing is True else 0, ()), ("have", 9, thing if thing != () else None), ("edits", 9, (), thing), ("edits", 9, (), (thing,)),
                     ("edits", 9, thing if thing != () else None, (edit,)), ("state", 9, thing if not isinstance(thing, State) else None), ("root", 9, (), thing if type(thing) is not int or thing < 0 else None),
@@ -653,6 +654,24 @@ class Views(unittest.TestCase):
                         self.assertGreaterEqual(house.looks() - looks, len(gone) + len(come))
                         grown += house.looks() > looks
         self.assertGreater(grown, 100)
+
+    def test_each_call_leads_the_view_on(self):
+        """Also where the next one undoes what it did."""
+        house, _ = fresh()
+        for drop in (lambda: house.write((), ("drop", "link", ("a", "b"))),
+                     lambda: house.hear(("edits", 9, (), ((9, 1, 50, house.stands(), ("drop", "link", ("a", "b"))),)))):
+            looks = house.looks()
+            house.write((), BRING)
+            drop()
+            self.assertEqual(house.rows("link"), ())
+            self.assertGreaterEqual(house.looks() - looks, 2)
+
+    def test_looks_behind_a_letter_for_which_there_was_no_room(self):
+        house, _ = fresh(room=500)
+        edits = [(9, n, n, ((9, n - 1),) if n > 1 else (), ("put", "name", (f"k{n:02}", "v" * 20))) for n in range(1, 21)]
+        self.assertRaises(TooSmall, house.hear, ("edits", 9, (), tuple(edits)))
+        self.assertGreaterEqual(house.looks(), house.stands()[0][1])
+        self.assertEqual(len(house.rows("name")), house.stands()[0][1])
 
     def test_little_is_looked_at(self):
         house, _ = fresh(room=200000)

@@ -249,6 +249,10 @@ class Judged(unittest.TestCase):
             self.assertIs(self.taken(TOLD, p=p), False)
         self.assertIs(judge((("link", "bag", ("word", "number")),), P, ROOT, QUESTION, TOLD), False)
 
+    def test_more_and_fewer_parts(self):
+        mark, told, paper = TOLD
+        self.no((*TOLD, None), (*TOLD, ()), TOLD[:2], (), list(TOLD), (mark, told, (*paper, ())), (mark, told, paper[:3]), (mark, told, list(paper)))
+
     def test_other_questions(self):
         for question in (("near", ("b", None)), ("near", (None, None)), ("near", ("a",)), ("link", ("a", None)), ("none", (None,)), ("near", ("a", "b"))):
             self.assertIs(self.taken(TOLD, question=question), False)

@@ -245,6 +245,21 @@ class Adding(unittest.TestCase):
             self.assertEqual(store.entries(), [f"e{at}"])
         self.assertEqual(disk.texts()[2], record(3, "first t3") + record(1, "e3"))
 
+    def test_a_turn_that_just_fits(self):
+        seen = set()
+        for many in range(150, 190):
+            disk = Disk(2, 200)
+            store = begun(disk, "f")
+            left = 200 - len(record(2, "first " + "x" * many))
+            if left >= 0:
+                store.turn("x" * many)
+                self.assertEqual(told_by(Store(disk)), (1, 2, "x" * many, []))
+            else:
+                self.assertRaises(TooSmall, store.turn, "x" * many)
+                self.assertEqual(disk.texts(), (record(1, "first f"), ""))
+            seen.add(left)
+        self.assertTrue({0, -1} <= seen)
+
     def test_a_turn_makes_sure_of_what_was_added(self):
         disk = Disk(2, 300)
         store = begun(disk, "f")
