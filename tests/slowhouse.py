@@ -63,10 +63,12 @@ class SlowHouse:
         return root_number(self.p, self.state())
 
     def kept(self):
-        return sorted([edit for edit in self.register.of(self.mark) if not has(self.gone, edit)], key=lambda edit: edit[:2])
+        return sorted([edit for edit in self.register.of(self.mark) if not has(self.gone, edit)],
+                      key=lambda edit: edit[:2])
 
     def first(self):
-        return pieces([str(self.life), slow_state_text(self.state()), slow_mark(self.gone), *map(slow_edit, self.kept())])
+        return pieces([str(self.life), slow_state_text(self.state()), slow_mark(self.gone),
+                       *map(slow_edit, self.kept())])
 
     def turn(self, more=0):
         line = slow_record(self.number + 1, "first " + self.first())
@@ -174,7 +176,8 @@ class SlowHouse:
 
 
 def told_by(house):
-    return (house.life(), house.state(), house.stands(), house.root(), house.kept(), house.gone(), house.aside(), house.faults())
+    return (house.life(), house.state(), house.stands(), house.root(), house.kept(), house.gone(), house.aside(),
+            house.faults())
 
 
 SCHEMA = S

@@ -141,11 +141,14 @@ class Falls(unittest.TestCase):
         return disk.texts()[area]
 
     def test_what_is_left(self):
-        for kept, left in (((0, 0, ""), "S"), ((1, 0, ""), "Sab"), ((2, 0, ""), "Sabcde"), ((0, 1, ""), "Sa"), ((1, 1, ""), "Sabc"),
-                           ((1, 2, ""), "Sabcd"), ((0, 0, "tail"), "Stail"), ((1, 2, "x y"), "Sabcdx y"), ((2, 0, "~"), "Sabcde~")):
+        for kept, left in (((0, 0, ""), "S"), ((1, 0, ""), "Sab"), ((2, 0, ""), "Sabcde"), ((0, 1, ""), "Sa"),
+                           ((1, 1, ""), "Sabc"),
+                           ((1, 2, ""), "Sabcd"), ((0, 0, "tail"), "Stail"), ((1, 2, "x y"), "Sabcdx y"),
+                           ((2, 0, "~"), "Sabcde~")):
             self.assertEqual(self.fallen(kept), left)
             self.assertEqual(self.fallen(kept, area=1), left)
-        for kept, left in (((0, 0, ""), "S"), ((1, 0, ""), ""), ((0, 0, "t"), "St"), ((1, 1, "t"), "at"), ((2, 0, "t"), "abt"),
+        for kept, left in (((0, 0, ""), "S"), ((1, 0, ""), ""), ((0, 0, "t"), "St"), ((1, 1, "t"), "at"),
+                           ((2, 0, "t"), "abt"),
                            ((3, 0, ""), "")):
             self.assertEqual(self.fallen(kept, (None, "ab", None)), left)
         self.assertEqual(self.fallen((1, 0, ""), (None,)), "")
@@ -176,14 +179,18 @@ class Falls(unittest.TestCase):
                     disk.put(area, deed)
         kept = (disk.texts(), disk.open_deeds())
         for area in (0, 1, 2):
-            for wrong in ((part if at == area else (0, 0, "") for at in range(3)), (part if at >= area else (0, 0, "") for at in range(3))):
+            for wrong in ((part if at == area else (0, 0, "") for at in range(3)),
+                          (part if at >= area else (0, 0, "") for at in range(3))):
                 self.assertEqual(field(self, BadKept, disk.fall, tuple(wrong)), {"area": area})
         self.assertEqual((disk.texts(), disk.open_deeds()), kept)
 
     def test_bad_triples(self):
-        for part in ((3, 0, ""), (-1, 0, ""), (True, 0, ""), (0, True, ""), (0, False, ""), (False, 0, ""), (0, 2, ""), (1, 3, ""),
-                     (2, 1, ""), (0, -1, ""), (0, 0, "t" * 61), (0, 0, "a\nb"), (0, 0, "\n"), (0, 0, "\t"), (0, 0, None), (0, 0, b""),
-                     (0, 0, 0), ("0", 0, ""), (None, 0, ""), (0, None, ""), (0, 0), (0, 0, "", 0), [0, 0, ""], (), None, 0, "",
+        for part in ((3, 0, ""), (-1, 0, ""), (True, 0, ""), (0, True, ""), (0, False, ""), (False, 0, ""), (0, 2, ""),
+                     (1, 3, ""),
+                     (2, 1, ""), (0, -1, ""), (0, 0, "t" * 61), (0, 0, "a\nb"), (0, 0, "\n"), (0, 0, "\t"),
+                     (0, 0, None), (0, 0, b""),
+                     (0, 0, 0), ("0", 0, ""), (None, 0, ""), (0, None, ""), (0, 0), (0, 0, "", 0), [0, 0, ""], (), None,
+                     0, "",
                      (10 ** 39, 0, ""), (0, 10 ** 39, ""), (1.0, 0, "")):
             self.bad(part)
         for part in ((1, 1, ""), (0, 1, ""), (2, 0, "")):
@@ -202,7 +209,8 @@ class Falls(unittest.TestCase):
 
     def test_what_is_no_tuple_of_as_many(self):
         good = (0, 0, "")
-        for kept in ((good,), (good,) * 3, (), [good, good], None, True, 2, "ab", {0: good, 1: good}, good, *odd_things()):
+        for kept in ((good,), (good,) * 3, (), [good, good], None, True, 2, "ab", {0: good, 1: good}, good,
+                     *odd_things()):
             disk = Disk(2, 200)
             disk.put(0, "ab")
             if not (type(kept) is tuple and len(kept) == 2):
@@ -337,12 +345,14 @@ class Records(unittest.TestCase):
         self.assertEqual(records(one + one), ([(1, "a"), (1, "a")], 2 * len(one)))
 
     def test_needless_zeros(self):
-        for ahead in ("01 1 a", "1 01 a", "00 1 a", "+1 1 a", "-1 1 a", "1  1 a", " 1 1 a", "1 1  a", "1 1 a ", "1_0 1 a", "1000000001 1 a",
+        for ahead in ("01 1 a", "1 01 a", "00 1 a", "+1 1 a", "-1 1 a", "1  1 a", " 1 1 a", "1 1  a", "1 1 a ",
+                      "1_0 1 a", "1000000001 1 a",
                       "01000000000 1 a"):
             text = f"{ahead} {slow_mix(SEAL, ahead)}\n"
             self.assertEqual(records(text), ([], 0))
         good = "1 1 a"
-        for seal in (f"0{slow_mix(SEAL, good)}", f"{slow_mix(SEAL, good) + SEAL}", f"{slow_mix(SEAL, good)} ", "", f"+{slow_mix(SEAL, good)}"):
+        for seal in (f"0{slow_mix(SEAL, good)}", f"{slow_mix(SEAL, good) + SEAL}", f"{slow_mix(SEAL, good)} ", "",
+                     f"+{slow_mix(SEAL, good)}"):
             self.assertEqual(records(f"{good} {seal}\n"), ([], 0))
         for length, body in ((0, "a"), (2, "a"), (1, "ab"), (3, "a\nb")):
             ahead = f"1 {length} {body}"

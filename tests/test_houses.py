@@ -4,7 +4,8 @@ import unittest
 
 from shownviews.books import bar
 from shownviews.disks import Disk, record
-from shownviews.errors import (BadKept, BadStore, Barred, Down, NoDeed, NoLetter, NoLife, NoMark, NoName, NoPattern, NoPrime, NoSchema, NoStore,
+from shownviews.errors import (BadKept, BadStore, Barred, Down, NoDeed, NoLetter, NoLife, NoMark, NoName, NoPattern,
+                               NoPrime, NoSchema, NoStore,
                                NotYet, TooSmall)
 from shownviews.houses import House, house_at, house_text
 from shownviews.meanings import meaning
@@ -33,9 +34,12 @@ def fresh(life=7, areas=2, room=20000):
 
 def all_calls(house):
     """All methods of a house, each with arguments that name errors."""
-    return [(house.life,), (house.state,), (house.stands,), (house.root,), (house.kept,), (house.gone,), (house.aside,), (house.faults,),
-            (house.rows, None), (house.rows, "link"), (house.looks,), (house.write, None, None), (house.write, (), BRING), (house.ask, None, None),
-            (house.ask, (), ("link", (None, None))), (house.have,), (house.hear, None), (house.hear, ("have", 9, ())), (house.forget, None),
+    return [(house.life,), (house.state,), (house.stands,), (house.root,), (house.kept,), (house.gone,), (house.aside,),
+            (house.faults,),
+            (house.rows, None), (house.rows, "link"), (house.looks,), (house.write, None, None),
+            (house.write, (), BRING), (house.ask, None, None),
+            (house.ask, (), ("link", (None, None))), (house.have,), (house.hear, None), (house.hear, ("have", 9, ())),
+            (house.forget, None),
             (house.forget, ()), (house.turn,), (house.fall, None), (house.fall, (NOTHING, NOTHING))]
 
 
@@ -82,15 +86,18 @@ class Texts(unittest.TestCase):
             house.hear(("edits", life, (), ((life, 1, 1, (), BRING),)))
         for _ in range(11):
             house.write((), BRING)
-        self.assertEqual([edit[:2] for edit in house.kept()], [(9, 1), *[(10, n) for n in range(1, 12)], (20, 1), (100, 1)])
-        self.assertEqual(house_text(house), pieces(["10", state_text(house.state()), "-", *[edit_text(edit) for edit in house.kept()]]))
+        self.assertEqual([edit[:2] for edit in house.kept()], [(9, 1), *[(10, n) for n in range(1, 12)], (20, 1),
+                                                               (100, 1)])
+        self.assertEqual(house_text(house),
+                         pieces(["10", state_text(house.state()), "-", *[edit_text(edit) for edit in house.kept()]]))
 
     def test_letters_that_change_nothing_leave_no_entry(self):
         house, disk = fresh()
         house.write((), BRING)
         texts = disk.texts()
         edit = (9, 2, 5, ((9, 1),), BRING)
-        for letter in (("have", 9, ()), ("have", 9, ((7, 1),)), ("have", 9, ((9, 9),)), ("edits", 9, (), ((7, 1, 1, (), BRING),)), ("edits", 9, (), (edit,)),
+        for letter in (("have", 9, ()), ("have", 9, ((7, 1),)), ("have", 9, ((9, 9),)),
+                       ("edits", 9, (), ((7, 1, 1, (), BRING),)), ("edits", 9, (), (edit,)),
                        ("root", 9, ((7, 1),), 5), ("root", 9, (), 5)):
             house.hear(letter)
         self.assertEqual(disk.texts(), texts)
@@ -99,7 +106,8 @@ class Texts(unittest.TestCase):
 
     def test_made_sure_ahead_of_what_tells_a_mark(self):
         def calls(house):
-            return [lambda: house.write((), BRING), lambda: house.ask((), ("link", (None, None))), house.have, lambda: house.hear(("have", 9, ())),
+            return [lambda: house.write((), BRING), lambda: house.ask((), ("link", (None, None))), house.have,
+                    lambda: house.hear(("have", 9, ())),
                     lambda: house.hear(("edits", 9, (), ((9, 1, 1, (), BRING),)))]
         for at in range(5):
             house, disk = fresh()
@@ -135,7 +143,8 @@ class Texts(unittest.TestCase):
             if full:
                 self.assertEqual(Store(disk).first(), before)
                 self.assertEqual(Store(disk).entries(), [text])
-                self.assertEqual(disk.texts()[1 - area], slow_record(Store(disk).generation(), f"first {before}") + slow_record(1, text))
+                self.assertEqual(disk.texts()[1 - area], slow_record(Store(disk).generation(),
+                                                                     f"first {before}") + slow_record(1, text))
             self.assertEqual(told_by(house_at(S, P, disk.copy())), told_by(house))
         self.assertGreater(Store(disk).generation(), 1)
 
@@ -171,24 +180,29 @@ class Opened(unittest.TestCase):
         house = self.opened(pieces(["7", self.STATE, "7:1", self.SEVEN, self.EIGHT]))
         self.assertEqual((house.gone(), [edit[:2] for edit in house.kept()]), (((7, 1),), [(7, 2), (8, 1)]))
         house = self.opened(pieces(["7", self.STATE, "7:2,8:1"]))
-        self.assertEqual((house.gone(), house.kept(), house.aside(), house.faults(), house.looks()), (((7, 2), (8, 1)), [], [], [], 0))
+        self.assertEqual((house.gone(), house.kept(), house.aside(), house.faults(), house.looks()),
+                         (((7, 2), (8, 1)), [], [], [], 0))
         self.assertEqual(house.write(((8, 1),), BRING), (3, ((7, 3), (8, 1))))
 
     def test_bad_first_bodies(self):
         good = ["7", self.STATE, "-", self.EDIT, self.SEVEN, self.EIGHT]
         self.opened(pieces(good))
         for at, others in ((0, ["0", "1000", "07", "-7", "+7", "", " 7", "7 ", "a", "9" * 5000, "7:1"]),
-                           (1, ["", "- 0", self.STATE + " ", self.STATE.replace("3", "2", 1)[:3], "7:2,8:1", "7:2 3", "9:1 1", self.STATE.replace("7:1,8:1", "8:1,7:1")]),
+                           (1, ["", "- 0", self.STATE + " ", self.STATE.replace("3", "2", 1)[:3], "7:2,8:1", "7:2 3",
+                                "9:1 1", self.STATE.replace("7:1,8:1", "8:1,7:1")]),
                            (2, ["", "7:3", "9:1", "7:1,8:2", "8:1,7:1", "7:01", "7:0", "7:1,", "- ", "7"]),
-                           (3, ["", self.EDIT + " ", self.SEVEN, self.EIGHT, "7 3 4 7:2 unrule a", "9 1 1 - unrule a", "7 1 1 - bring link 'a'", "x"]),
+                           (3, ["", self.EDIT + " ", self.SEVEN, self.EIGHT, "7 3 4 7:2 unrule a", "9 1 1 - unrule a",
+                                "7 1 1 - bring link 'a'", "x"]),
                            (5, ["8 2 3 8:1 unrule a", self.SEVEN, self.EDIT, "7 2 9 7:1 unrule b"])):
             for other in others:
                 self.opened(pieces([*good[:at], other, *good[at + 1:]]), index=-1)
-        for wrong in (good[:2], good[:1], [], [*good[:3], self.SEVEN, self.EDIT, self.EIGHT], [*good[:4], self.EDIT, *good[4:]], ["7", self.STATE, "7:1", self.EDIT, self.SEVEN],
+        for wrong in (good[:2], good[:1], [], [*good[:3], self.SEVEN, self.EDIT, self.EIGHT],
+                      [*good[:4], self.EDIT, *good[4:]], ["7", self.STATE, "7:1", self.EDIT, self.SEVEN],
                       ["7", self.STATE, "7:2,8:1", self.EIGHT], [*good, ""]):
             self.opened(pieces(wrong), index=-1)
         text = pieces(good)
-        for wrong in ("", "x", text + "x", text[:-1], "0" + text, text.replace("1:7", "01:7", 1), text.replace("1:7", "2:7", 1), " " + text, text[1:], text + "0", text + "0:",
+        for wrong in ("", "x", text + "x", text[:-1], "0" + text, text.replace("1:7", "01:7", 1),
+                      text.replace("1:7", "2:7", 1), " " + text, text[1:], text + "0", text + "0:",
                       text + "1:", "9" * 30 + ":", "9" * 5000 + ":"):
             self.opened(wrong, index=-1)
 
@@ -196,7 +210,8 @@ class Opened(unittest.TestCase):
         text = pieces(["7", self.STATE, "7:1", self.SEVEN, self.EIGHT])
         told = 0
         for at in range(len(text)):
-            for wrong in (text[:at] + text[at + 1:], text[:at] + "1" + text[at + 1:], text[:at] + "9" + text[at:], text[:at] + "'" + text[at + 1:]):
+            for wrong in (text[:at] + text[at + 1:], text[:at] + "1" + text[at + 1:], text[:at] + "9" + text[at:],
+                          text[:at] + "'" + text[at + 1:]):
                 disk = Disk(2, 20000)
                 begun(disk, wrong)
                 try:
@@ -210,17 +225,22 @@ class Opened(unittest.TestCase):
 
     def test_entries(self):
         first = pieces(["7", "- 0", "-"])
-        good = [f"mine {self.EDIT}", f"came {self.EIGHT}", f"mine {self.SEVEN}", "gone 7:1", f"state {self.STATE}", "came 30 1 1 - unrule b", "gone -", "gone 8:1,30:1"]
+        good = [f"mine {self.EDIT}", f"came {self.EIGHT}", f"mine {self.SEVEN}", "gone 7:1", f"state {self.STATE}",
+                "came 30 1 1 - unrule b", "gone -", "gone 8:1,30:1"]
         house = self.opened(first, *good)
         self.assertEqual((house.stands(), house.gone()), (((7, 2), (8, 1), (30, 1)), ((7, 2), (8, 1), (30, 1))))
         for many in range(len(good) + 1):
             house = self.opened(first, *good[:many])
-            self.assertEqual(house.stands(), ((), ((7, 1),), ((7, 1), (8, 1)))[many] if many < 3 else (((7, 2), (8, 1)) if many < 6 else ((7, 2), (8, 1), (30, 1))))
+            self.assertEqual(house.stands(), ((), ((7, 1),), ((7, 1), (8, 1)))[many] if many < 3
+                             else (((7, 2), (8, 1)) if many < 6 else ((7, 2), (8, 1), (30, 1))))
         for many in (0, 1, 3, 6):
             ahead = good[:many]
-            for bad in ("", "mine", "came", "mine ", "came ", "state", "gone", "gone ", "state ", "x", "mine x", "gone 99:1", "gone 7:99", "gone 8:2", "gone 7", "gone 07:1", "gone  -", "gone - ",
-                        "state x", "state 1:1 0", "Mine " + self.EDIT, "mine  " + self.EDIT, f"mine {self.EDIT} ", "mine 8 9 9 8:8 unrule a", "came 7 1 1 - unrule a", "came 7 9 9 7:8 unrule a",
-                        "came 9 2 2 9:1 unrule a", "came 9 1 2 30:7 unrule a", "mine 7 9 9 7:8 unrule a", "first x", "kept 7:1", "mine 9 1 1 - unrule a", "came 8 1 1 - bring link 'a'",
+            for bad in ("", "mine", "came", "mine ", "came ", "state", "gone", "gone ", "state ", "x", "mine x",
+                        "gone 99:1", "gone 7:99", "gone 8:2", "gone 7", "gone 07:1", "gone  -", "gone - ",
+                        "state x", "state 1:1 0", "Mine " + self.EDIT, "mine  " + self.EDIT, f"mine {self.EDIT} ",
+                        "mine 8 9 9 8:8 unrule a", "came 7 1 1 - unrule a", "came 7 9 9 7:8 unrule a",
+                        "came 9 2 2 9:1 unrule a", "came 9 1 2 30:7 unrule a", "mine 7 9 9 7:8 unrule a", "first x",
+                        "kept 7:1", "mine 9 1 1 - unrule a", "came 8 1 1 - bring link 'a'",
                         "state - 0 ; x", " mine " + self.EDIT, "gone 7:1,", "lost 7:1"):
                 self.opened(first, *ahead, bad, index=many)
                 self.opened(first, *ahead, bad, "x", index=many)
@@ -275,7 +295,8 @@ class Writing(unittest.TestCase):
         house.hear(("edits", 9, (), ((9, 1, 1, (), BRING),)))
         self.assertEqual(house.write(((7, 1), (9, 1)), ("take", "name", ("k",))), (3, ((7, 3), (9, 1))))
         self.assertEqual(house.kept()[2], (7, 3, 3, ((7, 2), (9, 1)), ("take", "name", ("k",))))
-        for token, lacking in ((((7, 4),), ((7, 4, 4),)), (((7, 9), (8, 2)), ((7, 4, 9), (8, 1, 2))), (((1, 10 ** 39),), ((1, 1, 10 ** 39),)), (((9, 2),), ((9, 2, 2),))):
+        for token, lacking in ((((7, 4),), ((7, 4, 4),)), (((7, 9), (8, 2)), ((7, 4, 9), (8, 1, 2))),
+                               (((1, 10 ** 39),), ((1, 1, 10 ** 39),)), (((9, 2),), ((9, 2, 2),))):
             for deed in (BRING, None):
                 self.assertEqual(field(self, NotYet, house.write, token, deed), {"lacking": lacking})
                 self.assertEqual(field(self, NotYet, house.ask, token, None), {"lacking": lacking})
@@ -293,15 +314,18 @@ class Writing(unittest.TestCase):
                 self.assertRaises(NoDeed, house.write, (), thing)
             if not is_pattern(thing):
                 self.assertRaises(NoPattern, house.ask, (), thing)
-        for deed in (("put", "link", ("a", "b")), ("bring", "link", ("a",)), ("add", "stock", ("x",), 0), ("rule", "r", rule("link", [v(0)], ("is", "near", (v(0),))))):
+        for deed in (("put", "link", ("a", "b")), ("bring", "link", ("a",)), ("add", "stock", ("x",), 0),
+                     ("rule", "r", rule("link", [v(0)], ("is", "near", (v(0),))))):
             self.assertRaises(NoDeed, house.write, ((7, 1),), deed)
         self.assertEqual((told_by(house), disk.texts(), house.looks()), kept)
 
     def test_answers(self):
         house, _ = fresh()
-        for deed in (BRING, ("bring", "link", ("b", "c")), ("rule", "one", NEAR), ("rule", "two", FAR), ("rule", "bad", rule("u", [v(0)], ("less", v(0), 1)))):
+        for deed in (BRING, ("bring", "link", ("b", "c")), ("rule", "one", NEAR), ("rule", "two", FAR),
+                     ("rule", "bad", rule("u", [v(0)], ("less", v(0), 1)))):
             house.write((), deed)
-        for question in (("near", ("a", None)), ("link", (None, None)), ("u", (None,)), ("none", (1,)), ("rule", (None, None))):
+        for question in (("near", ("a", None)), ("link", (None, None)), ("u", (None,)), ("none", (1,)),
+                         ("rule", (None, None))):
             told = house.ask(house.stands(), question)
             self.assertEqual(told, answer_of(P, house.state(), (), question))
             self.assertEqual(told[0], house.stands())
@@ -322,7 +346,8 @@ class Writing(unittest.TestCase):
                     break
             self.assertEqual((told_by(house), disk.texts(), house_text(house)), kept)
             self.assertRaises(NoDeed, house.write, (), None)
-            self.assertRaises(TooSmall, house.hear, ("edits", 9, (), ((9, 1, 1, (), ("put", "name", ("v" * 20, "v" * 20))),)))
+            self.assertRaises(TooSmall, house.hear,
+                              ("edits", 9, (), ((9, 1, 1, (), ("put", "name", ("v" * 20, "v" * 20))),)))
             self.assertRaises(TooSmall, house.hear, ("state", 9, read_state(S, "9:1 1 ; sum stock 'x' 9 " + "9" * 200)))
             if len(record(Store(disk).generation() + 1, f"first {house_text(house)}")) > room:
                 self.assertRaises(TooSmall, house.turn)
@@ -330,7 +355,8 @@ class Writing(unittest.TestCase):
             self.assertEqual((told_by(house), disk.texts(), house_text(house)), kept)
             self.assertEqual(told_by(house_at(S, P, disk)), told_by(house))
         self.assertGreater(turns, 3)
-        self.assertRaises(TooSmall, House(7, S, P, Disk(2, 200)).write, (), ("rule", "r", rule("x", ["x" * 20] * 5, *[("same", "x" * 20, "y" * 20)] * 4)))
+        self.assertRaises(TooSmall, House(7, S, P, Disk(2, 200)).write, (),
+                          ("rule", "r", rule("x", ["x" * 20] * 5, *[("same", "x" * 20, "y" * 20)] * 4)))
 
     def test_an_own_edit_for_which_one_aside_waited(self):
         house, disk = fresh()
@@ -349,7 +375,8 @@ def chain(life, many, height=1, deed=BRING):
 
 class Hearing(unittest.TestCase):
     def test_edits_in_every_order(self):
-        edits = [*chain(8, 3), (9, 1, 4, ((8, 2),), ("drop", "link", ("a", "b"))), (9, 2, 5, ((8, 3), (9, 1)), ("add", "stock", ("x",), 1))]
+        edits = [*chain(8, 3), (9, 1, 4, ((8, 2),), ("drop", "link", ("a", "b"))),
+                 (9, 2, 5, ((8, 3), (9, 1)), ("add", "stock", ("x",), 1))]
         for chance in chances(40):
             house, disk = fresh()
             left = edits * 2
@@ -363,14 +390,16 @@ class Hearing(unittest.TestCase):
                 told = house.hear(("edits", 9, (), some))
                 done = closed_under(came)
                 self.assertEqual(house.state(), state_from(by_rank(done)))
-                self.assertEqual(house.aside(), sorted({edit for edit in came if edit not in done}, key=lambda edit: edit[:2]))
+                self.assertEqual(house.aside(), sorted({edit for edit in came if edit not in done},
+                                                       key=lambda edit: edit[:2]))
                 self.assertEqual(told, [("have", 7, house.stands())] if house.stands() != before else [])
             self.assertEqual((house.aside(), house.state()), ([], state_from(edits)))
             self.assertEqual(told_by(house_at(S, P, disk)), told_by(house))
 
     def test_the_least_aside_first(self):
         house, disk = fresh()
-        waiting = [(9, 1, 9, ((8, 1),), BRING), (20, 1, 3, ((8, 1),), BRING), (10, 1, 3, ((8, 1),), BRING), (30, 1, 4, ((10, 1),), BRING), (5, 1, 12, ((9, 1),), BRING)]
+        waiting = [(9, 1, 9, ((8, 1),), BRING), (20, 1, 3, ((8, 1),), BRING), (10, 1, 3, ((8, 1),), BRING),
+                   (30, 1, 4, ((10, 1),), BRING), (5, 1, 12, ((9, 1),), BRING)]
         house.hear(("edits", 9, (), tuple(waiting)))
         self.assertEqual(house.aside(), sorted(waiting, key=lambda edit: edit[:2]))
         house.hear(("edits", 8, (), ((8, 1, 1, (), BRING), (8, 2, 2, ((8, 1),), BRING))))
@@ -410,14 +439,20 @@ class Hearing(unittest.TestCase):
         house.write((), ("unrule", "x"))
         own = house.kept()[0]
         mark = ((7, 1), (8, 30))
-        for theirs, wanted in (((), [("edits", 7, mark, tuple(chain(8, 20)))]), (((8, 5),), [("edits", 7, mark, tuple(chain(8, 25)[5:]))]),
-                               (((8, 15),), [("edits", 7, mark, (*chain(8, 30)[15:], own))]), (((8, 30),), [("edits", 7, mark, (own,))]),
-                               (((7, 1),), [("edits", 7, mark, tuple(chain(8, 20)))]), (mark, [("root", 7, mark, house.root())]),
-                               (((7, 1), (8, 31)), [("have", 7, mark)]), (((7, 1), (8, 30), (9, 1)), [("have", 7, mark)]),
-                               (((8, 31),), [("edits", 7, mark, (own,))]), (((5, 9), (7, 1)), [("edits", 7, mark, tuple(chain(8, 20)))])):
+        for theirs, wanted in (((), [("edits", 7, mark, tuple(chain(8, 20)))]),
+                               (((8, 5),), [("edits", 7, mark, tuple(chain(8, 25)[5:]))]),
+                               (((8, 15),), [("edits", 7, mark, (*chain(8, 30)[15:], own))]),
+                               (((8, 30),), [("edits", 7, mark, (own,))]),
+                               (((7, 1),), [("edits", 7, mark, tuple(chain(8, 20)))]),
+                               (mark, [("root", 7, mark, house.root())]),
+                               (((7, 1), (8, 31)), [("have", 7, mark)]),
+                               (((7, 1), (8, 30), (9, 1)), [("have", 7, mark)]),
+                               (((8, 31),), [("edits", 7, mark, (own,))]),
+                               (((5, 9), (7, 1)), [("edits", 7, mark, tuple(chain(8, 20)))])):
             self.assertEqual(house.hear(("have", 9, theirs)), wanted)
         house.forget(((8, 10),))
-        for theirs, wanted in (((), "state"), (((8, 9),), "state"), (((7, 1), (8, 9)), "state"), (((8, 10),), "edits"), (mark, "root"), (((7, 1), (8, 31)), "have")):
+        for theirs, wanted in (((), "state"), (((8, 9),), "state"), (((7, 1), (8, 9)), "state"), (((8, 10),), "edits"),
+                               (mark, "root"), (((7, 1), (8, 31)), "have")):
             told = house.hear(("have", 9, theirs))
             self.assertEqual([letter[0] for letter in told], [wanted])
             if wanted == "state":
@@ -437,7 +472,8 @@ class Hearing(unittest.TestCase):
     def test_states(self):
         house, _ = fresh()
         house.write((), ("put", "name", ("k", "v")))
-        house.hear(("edits", 9, (), ((9, 3, 9, ((9, 2),), BRING), (30, 1, 5, ((8, 4),), BRING), (9, 2, 4, ((9, 1),), BRING))))
+        house.hear(("edits", 9, (), ((9, 3, 9, ((9, 2),), BRING), (30, 1, 5, ((8, 4),), BRING),
+                                     (9, 2, 4, ((9, 1),), BRING))))
         other = State(S)
         for edit in [*chain(8, 3), *chain(9, 2)]:
             other = with_edit(other, edit)
@@ -456,10 +492,12 @@ class Hearing(unittest.TestCase):
         house, _ = fresh()
         house.write((), BRING)
         mark, root = house.stands(), house.root()
-        for letter in (("root", 9, mark, root), ("root", 9, (), 5), ("root", 9, ((7, 2),), 5), ("root", 9, ((7, 1), (8, 1)), root + 1)):
+        for letter in (("root", 9, mark, root), ("root", 9, (), 5), ("root", 9, ((7, 2),), 5),
+                       ("root", 9, ((7, 1), (8, 1)), root + 1)):
             self.assertEqual(house.hear(letter), [])
         self.assertEqual(house.faults(), [])
-        for letter in (("root", 9, mark, root + 1), ("root", 8, mark, 0), ("root", 9, mark, root + 1), ("root", 9, mark, 10 ** 39)):
+        for letter in (("root", 9, mark, root + 1), ("root", 8, mark, 0), ("root", 9, mark, root + 1),
+                       ("root", 9, mark, 10 ** 39)):
             self.assertEqual(house.hear(letter), [])
         self.assertEqual(house.faults(), [(9, mark, root + 1), (8, mark, 0), (9, mark, root + 1), (9, mark, 10 ** 39)])
         house.write((), BRING)
@@ -469,7 +507,8 @@ class Hearing(unittest.TestCase):
     def test_bent_states_are_found(self):
         """Whoever hands in a state bent to other rows or rules finds it told."""
         edit = (9, 1, 1, (), BRING)
-        for bent in ("9:1 1 ; bag link 'a','c' 9:1", "9:1 1", "9:1 1 ; rule r 1 9 'near(1) if 1 = 1'", "9:1 1 ; sum stock 'x' 9 1 ; bag link 'a','b' 9:1"):
+        for bent in ("9:1 1 ; bag link 'a','c' 9:1", "9:1 1", "9:1 1 ; rule r 1 9 'near(1) if 1 = 1'",
+                     "9:1 1 ; sum stock 'x' 9 1 ; bag link 'a','b' 9:1"):
             one, other = fresh()[0], fresh(8)[0]
             one.hear(("edits", 9, (), (edit,)))
             other.hear(("state", 9, read_state(S, bent)))
@@ -486,17 +525,28 @@ class Hearing(unittest.TestCase):
         house.write((), BRING)
         edit, state = (9, 1, 1, (), BRING), State(S)
         kept = (told_by(house), disk.texts(), disk.open_deeds())
-        bad = [None, (), ("have",), ("have", 9), ("have", 9, (), ()), ["have", 9, ()], ("have", 0, ()), ("have", 1000, ()), ("have", True, ()), ("have", "9", ()),
-               ("have", 9, None), ("have", 9, [(8, 1)]), ("have", 9, ((8, 0),)), ("have", 9, ((8, 1), (7, 1))), ("Have", 9, ()), ("", 9, ()), (None, 9, ()), ("have", 7, ()),
-               ("edits", 7, (), (edit,)), ("state", 7, state), ("root", 7, (), 5), ("edits", 9, ()), ("edits", 9, (), ()), ("edits", 9, (), [edit]), ("edits", 9, (), edit),
-               ("edits", 9, (), (edit,) * 21), ("edits", 9, None, (edit,)), ("edits", 9, (), (edit, None)), ("edits", 9, (), ((9, 1, 1, (), None),)),
-               ("edits", 9, (), ((9, 2, 2, (), BRING),)), ("edits", 9, (), (list(edit),)), ("edits", 9, (), (edit,), ()), ("state", 9, State(OTHER)), ("state", 9, None),
-               ("state", 9, (), state), ("state", 9, state, ()), ("state", 9, "- 0"), ("state", 0, state), ("root", 9, ()), ("root", 9, (), -1), ("root", 9, (), None),
-               ("root", 9, (), True), ("root", 9, (), "5"), ("root", 9, None, 5), ("root", 9, (), 5, 5), ("edits", 1000, (), (edit,)), ("root", 9.0, (), 5), ("Root", 9, (), 5), ("have", 9, (), 5), ("state", 9, (), 5),
+        bad = [None, (), ("have",), ("have", 9), ("have", 9, (), ()), ["have", 9, ()], ("have", 0, ()),
+               ("have", 1000, ()), ("have", True, ()), ("have", "9", ()),
+               ("have", 9, None), ("have", 9, [(8, 1)]), ("have", 9, ((8, 0),)), ("have", 9, ((8, 1), (7, 1))),
+               ("Have", 9, ()), ("", 9, ()), (None, 9, ()), ("have", 7, ()),
+               ("edits", 7, (), (edit,)), ("state", 7, state), ("root", 7, (), 5), ("edits", 9, ()),
+               ("edits", 9, (), ()), ("edits", 9, (), [edit]), ("edits", 9, (), edit),
+               ("edits", 9, (), (edit,) * 21), ("edits", 9, None, (edit,)), ("edits", 9, (), (edit, None)),
+               ("edits", 9, (), ((9, 1, 1, (), None),)),
+               ("edits", 9, (), ((9, 2, 2, (), BRING),)), ("edits", 9, (), (list(edit),)),
+               ("edits", 9, (), (edit,), ()), ("state", 9, State(OTHER)), ("state", 9, None),
+               ("state", 9, (), state), ("state", 9, state, ()), ("state", 9, "- 0"), ("state", 0, state),
+               ("root", 9, ()), ("root", 9, (), -1), ("root", 9, (), None),
+               ("root", 9, (), True), ("root", 9, (), "5"), ("root", 9, None, 5), ("root", 9, (), 5, 5),
+               ("edits", 1000, (), (edit,)), ("root", 9.0, (), 5), ("Root", 9, (), 5), ("have", 9, (), 5),
+               ("state", 9, (), 5),
                ("have", 9, (), (edit,)), ("", 9, (), 5)]
         for thing in odd_things():
-            bad += [thing, (thing, 9, ()), ("have", thing if thing != 1 or thing is True else 0, ()), ("have", 9, thing if thing != () else None), ("edits", 9, (), thing), ("edits", 9, (), (thing,)),
-                    ("edits", 9, thing if thing != () else None, (edit,)), ("state", 9, thing if not isinstance(thing, State) else None), ("root", 9, (), thing if type(thing) is not int or thing < 0 else None),
+            bad += [thing, (thing, 9, ()), ("have", thing if thing != 1 or thing is True else 0, ()),
+                    ("have", 9, thing if thing != () else None), ("edits", 9, (), thing), ("edits", 9, (), (thing,)),
+                    ("edits", 9, thing if thing != () else None, (edit,)),
+                    ("state", 9, thing if not isinstance(thing, State) else None),
+                    ("root", 9, (), thing if type(thing) is not int or thing < 0 else None),
                     ("edits", 9, (), ((9, 1, 1, (thing, 1), BRING),)), (thing, 9, (), (edit,))]
         for letter in bad:
             with self.assertRaises(NoLetter, msg=repr(letter)[:300]):
@@ -547,8 +597,10 @@ class Forgetting(unittest.TestCase):
         for edit in chain(8, 4):
             house.hear(("edits", 8, (), (edit,)))
         house.write((), BRING)
-        for mark, gone, kept in (((), (), [(7, 1), (8, 1), (8, 2), (8, 3), (8, 4)]), (((8, 2),), ((8, 2),), [(7, 1), (8, 3), (8, 4)]),
-                                 (((8, 1),), ((8, 2),), [(7, 1), (8, 3), (8, 4)]), (((7, 1),), ((7, 1), (8, 2)), [(8, 3), (8, 4)]),
+        for mark, gone, kept in (((), (), [(7, 1), (8, 1), (8, 2), (8, 3), (8, 4)]),
+                                 (((8, 2),), ((8, 2),), [(7, 1), (8, 3), (8, 4)]),
+                                 (((8, 1),), ((8, 2),), [(7, 1), (8, 3), (8, 4)]),
+                                 (((7, 1),), ((7, 1), (8, 2)), [(8, 3), (8, 4)]),
                                  (((7, 1), (8, 4)), ((7, 1), (8, 4)), [])):
             house.forget(mark)
             self.assertEqual((house.gone(), [edit[:2] for edit in house.kept()]), (gone, kept))
@@ -557,7 +609,8 @@ class Forgetting(unittest.TestCase):
         house, disk = fresh()
         house.write((), BRING)
         kept = (told_by(house), disk.texts())
-        for thing in [*odd_things(), ((7, 2),), ((8, 1),), ((7, 1), (8, 1)), [(7, 1)], ((7, 0),), ((7, True),), ((7, 10 ** 39),), None, ((8, 1), (7, 1))]:
+        for thing in [*odd_things(), ((7, 2),), ((8, 1),), ((7, 1), (8, 1)), [(7, 1)], ((7, 0),), ((7, True),),
+                      ((7, 10 ** 39),), None, ((8, 1), (7, 1))]:
             if thing != ():
                 self.assertRaises(NoMark, house.forget, thing)
         self.assertEqual((told_by(house), disk.texts()), kept)
@@ -592,7 +645,8 @@ class Forgetting(unittest.TestCase):
                     mark = houses[at].stands()
                     houses[at].forget(tuple(pair for pair in mark if chance.random() < 0.7))
                 for one, other in zip(houses, others):
-                    self.assertEqual((one.stands(), one.state(), one.root()), (other.stands(), other.state(), other.root()))
+                    self.assertEqual((one.stands(), one.state(), one.root()),
+                                     (other.stands(), other.state(), other.root()))
                     question = ("near", (None, chance.choice("abc")))
                     self.assertEqual(one.ask((), question), other.ask((), question))
                     self.assertEqual((one.rows("near"), one.faults()), (other.rows("near"), []))
@@ -626,7 +680,8 @@ class Views(unittest.TestCase):
             self.assertEqual(house.looks(), 0)
             for _ in range(30):
                 looks, book, rows = house.looks(), titles(house.state()), tables(house.state())
-                deed = chance.choice([random_deed(chance), ("bring", "link", (chance.choice("abcd"), chance.choice("abcd")))])
+                deed = chance.choice([random_deed(chance), ("bring", "link",
+                                                            (chance.choice("abcd"), chance.choice("abcd")))])
                 word = chance.choice(["write"] * 5 + ["hear", "ask", "open", "state", "forget"])
                 if word == "write":
                     house.write((), deed)
@@ -668,14 +723,16 @@ class Views(unittest.TestCase):
 
     def test_looks_behind_a_letter_for_which_there_was_no_room(self):
         house, _ = fresh(room=500)
-        edits = [(9, n, n, ((9, n - 1),) if n > 1 else (), ("put", "name", (f"k{n:02}", "v" * 20))) for n in range(1, 21)]
+        edits = [(9, n, n, ((9, n - 1),) if n > 1 else (), ("put", "name", (f"k{n:02}", "v" * 20)))
+                 for n in range(1, 21)]
         self.assertRaises(TooSmall, house.hear, ("edits", 9, (), tuple(edits)))
         self.assertGreaterEqual(house.looks(), house.stands()[0][1])
         self.assertEqual(len(house.rows("name")), house.stands()[0][1])
 
     def test_little_is_looked_at(self):
         house, _ = fresh(room=200000)
-        text = "8:900 900 ; " + " ; ".join(f"bag link 'w{n:03}','w{n + 1:03}' 8:{n}" for n in range(1, 900)) + " ; rule one 1 8 'near(?0, ?1) if link(?0, ?1)'"
+        text = "8:900 900 ; " + " ; ".join(f"bag link 'w{n:03}','w{n + 1:03}' 8:{n}"
+                                           for n in range(1, 900)) + " ; rule one 1 8 'near(?0, ?1) if link(?0, ?1)'"
         house.hear(("state", 8, read_state(S, text)))
         looks = house.looks()
         house.write((), BRING)
@@ -770,7 +827,8 @@ class Lives(unittest.TestCase):
             bag, told = [], {life: [] for life in lives}
             for _ in range(80):
                 life = chance.choice(lives)
-                word = chance.choice(["write"] * 4 + ["have"] * 3 + ["bring"] * 8 + ["forget", "turn", "fall", "ask", "lone"])
+                word = chance.choice(["write"] * 4 + ["have"] * 3 + ["bring"] * 8 + ["forget", "turn", "fall", "ask",
+                                                                                     "lone"])
                 self.step(chance, word, life, houses, slow, disks, bag, told, seen, register)
                 for one in lives:
                     self.assertEqual(told_by(houses[one]), slow[one].told())
@@ -828,7 +886,8 @@ class Lives(unittest.TestCase):
     def both(self, call, given, slow_call, slow_given, seen):
         """What both calls tell; both may raise TooSmall alone."""
         try:
-            told = unchanged(self, call, *given) if not any(isinstance(part, tuple) and part[:1] == ("state",) for part in given) else call(*given)
+            told = unchanged(self, call, *given) if not any(isinstance(part, tuple) and part[:1] == ("state",)
+                                                            for part in given) else call(*given)
         except TooSmall:
             seen["small"] += 1
             self.assertRaises(TooSmall, slow_call, *slow_given)
@@ -844,7 +903,8 @@ class Told(unittest.TestCase):
         house.hear(("edits", 9, (), ((9, 2, 5, ((9, 1),), BRING),)))
         house.hear(("root", 9, ((7, 1),), 5))
         kept = told_by(house)
-        for call in (house.kept, house.aside, house.faults, lambda: house.hear(("have", 9, ())), lambda: house.hear(("have", 9, ((7, 1),)))):
+        for call in (house.kept, house.aside, house.faults, lambda: house.hear(("have", 9, ())),
+                     lambda: house.hear(("have", 9, ((7, 1),)))):
             one = call()
             wanted = list(one)
             one.clear()

@@ -16,7 +16,8 @@ from shownviews.showings import is_clash, read, root_of, shown
 from shownviews.states import State, tables, titles
 from shownviews.texts import read_state
 from shownviews.trees import Tree
-from tests.helpers import (ANY, FAR, NEAR, S, T, chances, deep, odd_things, parts_put_otherwise, rule, slow_rows, told_by,
+from tests.helpers import (ANY, FAR, NEAR, S, T, chances, deep, odd_things, parts_put_otherwise, rule, slow_rows,
+                           told_by,
                            unchanged, v)
 from tests.slowly import fits, rows_of_all, slow_mix, slow_number, slow_plans, slow_rank, slow_texts
 from tests.test_lots import BOOK, NAMES, cases, random_plan
@@ -63,7 +64,8 @@ def slow_root(p, answer):
 
 def slow_judge(p, root, question, answer):
     """Whether an answer is taken, by what closed lots, traces and readings are."""
-    if not (type(answer) is tuple and len(answer) == 3 and is_mark(answer[0]) and type(answer[2]) is tuple and len(answer[2]) == 4):
+    if not (type(answer) is tuple and len(answer) == 3 and is_mark(answer[0]) and type(answer[2]) is tuple
+            and len(answer[2]) == 4):
         return False
     mark, told, (plan, asked, claimed, showing) = answer
     try:
@@ -96,7 +98,8 @@ def read_all(p, showing, name):
     sorts = {one: sorts for one, _, sorts in S}[name]
     kinds = {"word": str, "number": int}
     facts = facts_of(showing)
-    return tuple(row for one, row in facts if one == name and [kinds[sort] for sort in sorts] == [type(part) for part in row])
+    return tuple(row for one,
+                 row in facts if one == name and [kinds[sort] for sort in sorts] == [type(part) for part in row])
 
 
 def facts_of(showing):
@@ -111,8 +114,10 @@ def facts_of(showing):
 
 
 def questions(chance):
-    told = [("link", ("a", None)), ("link", (None, None)), ("stock", (None, None)), ("name", (None, "b")), ("none", (None,)), ("rule", (None, None)),
-            ("link", ("a",)), ("p", (None,)), ("q", ("a", None)), ("q", (None, "b")), ("s", (None, None)), ("r", ("a",)), ("p", (None, None))]
+    told = [("link", ("a", None)), ("link", (None, None)), ("stock", (None, None)), ("name", (None, "b")),
+            ("none", (None,)), ("rule", (None, None)),
+            ("link", ("a",)), ("p", (None,)), ("q", ("a", None)), ("q", (None, "b")), ("s", (None, None)),
+            ("r", ("a",)), ("p", (None, None))]
     return chance.sample(told, 4)
 
 
@@ -122,7 +127,8 @@ class Answers(unittest.TestCase):
         mark, rows, (plan, asked, claimed, showing) = told
         self.assertEqual((mark, rows, plan), (((7, 1),), (("a", "b"), ("a", "c")), ()))
         self.assertTrue(is_closed(S, BOOK, (), T, ("near", ("a", None)), (asked, claimed)))
-        self.assertEqual(showing, shown(tree_of(P, STATE), (RULES, *trace(S, BOOK, (), T, ("near", ("a", None)), (asked, claimed)))))
+        self.assertEqual(showing, shown(tree_of(P, STATE),
+                                        (RULES, *trace(S, BOOK, (), T, ("near", ("a", None)), (asked, claimed)))))
         self.assertIs(judge(S, P, root_number(P, STATE), ("near", ("a", None)), told), True)
 
     def test_without_edits(self):
@@ -174,7 +180,8 @@ class Answers(unittest.TestCase):
     def test_names_with_a_bar(self):
         state = state_with({**BOOK, **BARS}, T)
         root = root_number(P, state)
-        for name, why in (("u", ("unsafe", "un")), ("above", ("unsafe", "un")), ("w", ("places", "pl")), ("x", ("ring", ("x",)))):
+        for name, why in (("u", ("unsafe", "un")), ("above", ("unsafe", "un")), ("w", ("places", "pl")),
+                          ("x", ("ring", ("x",)))):
             for terms in ((None,), ("a", None), (1,)):
                 told = answer_of(P, state, (), (name, terms))
                 self.assertEqual(told, (state.mark, why, ((), (), (), shown(tree_of(P, state), (RULES,)))))
@@ -188,7 +195,8 @@ class Answers(unittest.TestCase):
         for thing in not_primes():
             self.assertRaises(NoPrime, answer_of, thing, STATE, None, None)
             self.assertRaises(NoPrime, least_paper, thing, STATE, None)
-        for thing in [None, [], (1,), (("one", (0,), (0, 0)),), (("one", (), (0,)), ("one", (), (0,))), (("none", (), (0,)),), "", True, {}]:
+        for thing in [None, [], (1,), (("one", (0,), (0, 0)),), (("one", (), (0,)), ("one", (), (0,))),
+                      (("none", (), (0,)),), "", True, {}]:
             self.assertRaises(NoPlan, answer_of, P, STATE, thing, None)
             self.assertRaises(NoPlan, answer_of, P, STATE, thing, good)
         for thing in odd_things():
@@ -209,7 +217,8 @@ def is_pattern(thing):
         return False
     if not 1 <= len(thing[0]) <= 8 or not all("a" <= sign <= "z" for sign in thing[0]) or not 1 <= len(thing[1]) <= 5:
         return False
-    return all(one is None or type(one) is int or type(one) is str and len(one) <= 20 and "\n" not in one for one in thing[1])
+    return all(one is None or type(one) is int or type(one) is str and len(one) <= 20 and "\n" not in one
+               for one in thing[1])
 
 
 QUESTION = ("near", ("a", None))
@@ -226,7 +235,8 @@ class Judged(unittest.TestCase):
     def put(self, **parts):
         """The good answer with other parts."""
         mark, told, (plan, asked, claimed, showing) = TOLD
-        good = {"mark": mark, "told": told, "plan": plan, "asked": asked, "claimed": claimed, "showing": showing, **parts}
+        good = {"mark": mark, "told": told, "plan": plan, "asked": asked, "claimed": claimed, "showing": showing,
+                **parts}
         return (good["mark"], good["told"], (good["plan"], good["asked"], good["claimed"], good["showing"]))
 
     def no(self, *answers):
@@ -236,12 +246,15 @@ class Judged(unittest.TestCase):
     def test_rows(self):
         rows = TOLD[1]
         self.assertTrue(self.taken(self.put()))
-        self.no(self.put(told=rows[:1]), self.put(told=()), self.put(told=rows[::-1]), self.put(told=rows + rows[:1]), self.put(told=rows[:1] * 2),
-                self.put(told=(*rows, ("b", "c"))), self.put(told=list(rows)), self.put(told=(list(rows[0]), rows[1])), self.put(told=None),
+        self.no(self.put(told=rows[:1]), self.put(told=()), self.put(told=rows[::-1]), self.put(told=rows + rows[:1]),
+                self.put(told=rows[:1] * 2),
+                self.put(told=(*rows, ("b", "c"))), self.put(told=list(rows)), self.put(told=(list(rows[0]), rows[1])),
+                self.put(told=None),
                 self.put(told=(("a", "b", "c"),)), self.put(told=("unsafe", "one")), self.put(told=("ring", ("near",))))
 
     def test_marks_and_roots(self):
-        self.no(self.put(mark=((7, 2),)), self.put(mark=()), self.put(mark=((7, 1), (8, 1))), self.put(mark=[(7, 1)]), self.put(mark=((7, True),)),
+        self.no(self.put(mark=((7, 2),)), self.put(mark=()), self.put(mark=((7, 1), (8, 1))), self.put(mark=[(7, 1)]),
+                self.put(mark=((7, True),)),
                 self.put(mark=((7.0, 1),)), self.put(mark=((True, 1),)), self.put(mark=None))
         for root in (0, ROOT - 1, ROOT + 1, ROOT + P, 10 ** 39, tree_of(P, STATE).number):
             self.assertIs(self.taken(TOLD, root=root), False)
@@ -251,10 +264,12 @@ class Judged(unittest.TestCase):
 
     def test_more_and_fewer_parts(self):
         mark, told, paper = TOLD
-        self.no((*TOLD, None), (*TOLD, ()), TOLD[:2], (), list(TOLD), (mark, told, (*paper, ())), (mark, told, paper[:3]), (mark, told, list(paper)))
+        self.no((*TOLD, None), (*TOLD, ()), TOLD[:2], (), list(TOLD), (mark, told, (*paper, ())),
+                (mark, told, paper[:3]), (mark, told, list(paper)))
 
     def test_other_questions(self):
-        for question in (("near", ("b", None)), ("near", (None, None)), ("near", ("a",)), ("link", ("a", None)), ("none", (None,)), ("near", ("a", "b"))):
+        for question in (("near", ("b", None)), ("near", (None, None)), ("near", ("a",)), ("link", ("a", None)),
+                         ("none", (None,)), ("near", ("a", "b"))):
             self.assertIs(self.taken(TOLD, question=question), False)
 
     def test_plans(self):
@@ -267,17 +282,23 @@ class Judged(unittest.TestCase):
         self.no(self.put(plan=plan), self.put(plan=plan, showing=whole))
         asked, claimed = closed_lot(S, BOOK, plan, T, QUESTION)
         self.assertTrue(self.taken(self.put(plan=plan, asked=asked, claimed=claimed, showing=whole)))
-        self.no(self.put(plan=(("two", (0,), (0, 0)),)), self.put(plan=(("three", (0,), (0, 1)),)), self.put(plan=[]), self.put(plan=None),
-                self.put(plan=(("two", (0,), (0, 1)),) * 2), self.put(plan=(("two", (0,), (False, 1)),)), self.put(plan=(("two", (2,), (0, 1)),)))
+        self.no(self.put(plan=(("two", (0,), (0, 0)),)), self.put(plan=(("three", (0,), (0, 1)),)), self.put(plan=[]),
+                self.put(plan=None),
+                self.put(plan=(("two", (0,), (0, 1)),) * 2), self.put(plan=(("two", (0,), (False, 1)),)),
+                self.put(plan=(("two", (2,), (0, 1)),)))
 
     def test_patterns_and_claims(self):
         _, _, (_, asked, claimed, showing) = TOLD
-        self.no(self.put(asked=()), self.put(asked=asked * 2), self.put(asked=list(asked)), self.put(claimed=()), self.put(claimed=claimed[:1]),
-                self.put(claimed=claimed[1:]), self.put(claimed=claimed * 2), self.put(claimed=list(claimed)), self.put(asked=asked + (("link", (None, None)),)),
+        self.no(self.put(asked=()), self.put(asked=asked * 2), self.put(asked=list(asked)), self.put(claimed=()),
+                self.put(claimed=claimed[:1]),
+                self.put(claimed=claimed[1:]), self.put(claimed=claimed * 2), self.put(claimed=list(claimed)),
+                self.put(asked=asked + (("link", (None, None)),)),
                 self.put(asked=asked + (("none", (None,)),)), self.put(asked=asked + (("near", (None, None)),)))
         for at, claim in enumerate(claimed):
-            for bent in ((*claim[:2], -1, *claim[3:]), (*claim[:2], True, *claim[3:]), (*claim[:3], "none", claim[4]), (*claim[:3], "two", claim[4]),
-                         (*claim[:4], claim[4][:-1]), (*claim[:4], claim[4][::-1]), claim[:4], (claim[0], ("a", "z"), *claim[2:]), ("link", *claim[1:]),
+            for bent in ((*claim[:2], -1, *claim[3:]), (*claim[:2], True, *claim[3:]), (*claim[:3], "none", claim[4]),
+                         (*claim[:3], "two", claim[4]),
+                         (*claim[:4], claim[4][:-1]), (*claim[:4], claim[4][::-1]), claim[:4],
+                         (claim[0], ("a", "z"), *claim[2:]), ("link", *claim[1:]),
                          list(claim), (claim[0], list(claim[1]), *claim[2:])):
                 if bent != claim:
                     self.no(self.put(claimed=(*claimed[:at], bent, *claimed[at + 1:])))
@@ -300,15 +321,18 @@ class Judged(unittest.TestCase):
         facts = tree.facts
         for other in (facts[1:], facts[:-1], (*facts, ("zz", (1,))), ()):
             self.no(self.put(showing=shown(Tree(P, other), tuple((name, None, None) for name in ("link", "rule")))))
-        self.no(self.put(showing=None), self.put(showing=list(whole)), self.put(showing=("cut", tree.number, tree.many)), self.put(showing=("leaf", facts)))
+        self.no(self.put(showing=None), self.put(showing=list(whole)),
+                self.put(showing=("cut", tree.number, tree.many)), self.put(showing=("leaf", facts)))
 
     def test_showings_that_cut_too_much(self):
         """Each stretch that is come to must be shown."""
-        rows = {**T, "link": tuple((f"a{n:02}", f"a{n + 1:02}") for n in range(60)), "name": tuple((f"k{n:02}", "v") for n in range(60))}
+        rows = {**T, "link": tuple((f"a{n:02}", f"a{n + 1:02}") for n in range(60)),
+                "name": tuple((f"k{n:02}", "v") for n in range(60))}
         for p in (65537, P):
             state = state_with(BOOK, rows)
             tree, root = tree_of(p, state), root_number(p, state)
-            for question in (("near", ("a57", None)), ("link", ("a05", None)), ("name", (None, "v")), ("name", ("k07", "v"))):
+            for question in (("near", ("a57", None)), ("link", ("a05", None)), ("name", (None, "v")),
+                             ("name", ("k07", "v"))):
                 told = answer_of(p, state, (), question)
                 self.assertTrue(judge(S, p, root, question, told))
                 stretches = (RULES, *trace(S, BOOK, (), rows, question, told[2][1:3]))
@@ -329,9 +353,11 @@ class Judged(unittest.TestCase):
         for name, why in (("u", ("unsafe", "un")), ("w", ("places", "pl")), ("x", ("ring", ("x",)))):
             told = answer_of(P, state, (), (name, (None,)))
             showing = told[2][3]
-            for parts in (((), (), ()), (None, None, None), (1, [2], {}), (told, deep(tuple, 26), deep(list, 25)), (TOLD[2][0], TOLD[2][1], TOLD[2][2])):
+            for parts in (((), (), ()), (None, None, None), (1, [2], {}), (told, deep(tuple, 26), deep(list, 25)),
+                          (TOLD[2][0], TOLD[2][1], TOLD[2][2])):
                 self.assertTrue(judge(S, P, root, (name, (None,)), (told[0], why, (*parts, showing))))
-            for bent in (("unsafe", "up"), ("unsafe", "one"), ("places", "un"), ("ring", ("x", "x")), ("ring", ["x"]), ["unsafe", "un"], (), None,
+            for bent in (("unsafe", "up"), ("unsafe", "one"), ("places", "un"), ("ring", ("x", "x")), ("ring", ["x"]),
+                         ["unsafe", "un"], (), None,
                          (("a",),), why[0], why[:1], (*why, 1), (why,)):
                 if bent != why:
                     self.assertIs(judge(S, P, root, (name, (None,)), (told[0], bent, told[2])), False)
@@ -341,12 +367,17 @@ class Judged(unittest.TestCase):
     def test_bent_books(self):
         """Rules' texts that are none, titles that stand twice, facts that are no rows of their relations."""
         good = rule_text(NEAR)
-        cases = [((("rule", ("one", good)),), True), ((("rule", ("one", good + " ")),), False), ((("rule", ("one", "")),), False),
-                 ((("rule", ("one", good)), ("rule", ("one", rule_text(FAR)))), False), ((("rule", ("one", good)), ("rule", ("two", "x"))), False),
-                 ((("rule", ("one", rule_text(rule("x", [X], ("is", "link", (X,)))))),), False), ((("rule", ("one", good + "\n")),), False),
-                 ((("link", ("a",)), ("link", ("a", "b")), ("rule", ("one", good))), False), ((("link", ("a", 1)), ("link", ("a", "b")), ("rule", ("one", good))), False),
+        cases = [((("rule", ("one", good)),), True), ((("rule", ("one", good + " ")),), False),
+                 ((("rule", ("one", "")),), False),
+                 ((("rule", ("one", good)), ("rule", ("one", rule_text(FAR)))), False),
+                 ((("rule", ("one", good)), ("rule", ("two", "x"))), False),
+                 ((("rule", ("one", rule_text(rule("x", [X], ("is", "link", (X,)))))),), False),
+                 ((("rule", ("one", good + "\n")),), False),
+                 ((("link", ("a",)), ("link", ("a", "b")), ("rule", ("one", good))), False),
+                 ((("link", ("a", 1)), ("link", ("a", "b")), ("rule", ("one", good))), False),
                  ((("link", ("a", "b", "c")), ("link", ("a", "b")), ("rule", ("one", good))), False),
-                 ((("link", ("b",)), ("link", ("b", 10 ** 30)), ("rule", ("one", good))), True), ((("near", ("a", "z")), ("rule", ("one", good))), True),
+                 ((("link", ("b",)), ("link", ("b", 10 ** 30)), ("rule", ("one", good))), True),
+                 ((("near", ("a", "z")), ("rule", ("one", good))), True),
                  ((("name", (1,)), ("zz", (10 ** 30, 1, 1)), ("rule", ("one", good))), True)]
         for facts, wanted in cases:
             facts = tuple(sorted(facts, key=lambda fact: (fact[0], [(isinstance(one, str), one) for one in fact[1]])))
@@ -359,7 +390,8 @@ class Judged(unittest.TestCase):
             self.assertIs(judge(S, P, root, QUESTION, answer), wanted, facts)
             self.assertEqual(slow_judge(P, root, QUESTION, answer), wanted)
         # In tables the last place of a sum may have any number of digits, other places may not.
-        for name, row, wanted in (("stock", ("a", 10 ** 30), True), ("stock", ("a" * 21, 1), False), ("link", ("a", "b" * 20), True)):
+        for name, row, wanted in (("stock", ("a", 10 ** 30), True), ("stock", ("a" * 21, 1), False),
+                                  ("link", ("a", "b" * 20), True)):
             if len(row[0]) <= 20:
                 showing = ("leaf", ((name, row),))
                 tree = Tree(P, ((name, row),))
@@ -398,7 +430,8 @@ class Judged(unittest.TestCase):
             state = state_with(book, rows)
             told = answer_of(P, state, plan, question)
             root = root_number(P, state)
-            others = list(parts_put_otherwise(told, [None, 0, (), "a", ("a", "b"), (question,), told[1], told[2][2][:1], 7]))
+            others = list(parts_put_otherwise(told, [None, 0, (), "a", ("a", "b"), (question,), told[1], told[2][2][:1],
+                                                     7]))
             for thing in chance.sample(others, min(len(others), 150)):
                 taken = judge(S, P, root, question, thing)
                 self.assertIs(taken, slow_judge(P, root, question, thing))
@@ -421,7 +454,8 @@ class Judged(unittest.TestCase):
             for one in answers:
                 for other in answers:
                     for third in answers:
-                        for mixed in ((one[0], one[1], (*other[2][:3], third[2][3])), (one[0], other[1], (third[2][0], *one[2][1:3], states and other[2][3]))):
+                        for mixed in ((one[0], one[1], (*other[2][:3], third[2][3])),
+                                      (one[0], other[1], (third[2][0], *one[2][1:3], states and other[2][3]))):
                             taken = judge(S, P, root, question, mixed)
                             if taken:
                                 self.assertEqual(mixed[:2], answers[0][:2])
@@ -445,10 +479,14 @@ class Judged(unittest.TestCase):
         mark, told, (plan, asked, claimed, showing) = TOLD
         claim = claimed[0]
         for thing in [*odd_things(), deep(tuple, 30), STATE]:
-            for answer in (thing, (thing, told, TOLD[2]), (mark, thing, TOLD[2]), (mark, told, thing), self.put(plan=thing if thing != () else None),
-                           self.put(asked=thing), self.put(claimed=thing), self.put(showing=thing), self.put(asked=(thing,)), self.put(claimed=(thing,)),
-                           self.put(claimed=((thing, *claim[1:]), claimed[1])), self.put(claimed=((*claim[:4], thing), claimed[1])),
-                           self.put(claimed=((*claim[:3], thing, claim[4]), claimed[1])), self.put(showing=("leaf", thing)), (thing, thing, thing)):
+            for answer in (thing, (thing, told, TOLD[2]), (mark, thing, TOLD[2]), (mark, told, thing),
+                           self.put(plan=thing if thing != () else None),
+                           self.put(asked=thing), self.put(claimed=thing), self.put(showing=thing),
+                           self.put(asked=(thing,)), self.put(claimed=(thing,)),
+                           self.put(claimed=((thing, *claim[1:]), claimed[1])),
+                           self.put(claimed=((*claim[:4], thing), claimed[1])),
+                           self.put(claimed=((*claim[:3], thing, claim[4]), claimed[1])),
+                           self.put(showing=("leaf", thing)), (thing, thing, thing)):
                 self.assertIs(self.taken(answer), False)
 
     def test_equal_calls(self):
@@ -486,7 +524,8 @@ class Witnesses(unittest.TestCase):
                 question = ("stock", (None, None))
                 answers = [answer_of(self.p, state, (), question) for state in (one, other)]
                 self.assertNotEqual(answers[0][1], answers[1][1])
-                self.assertEqual(set(self.told(question, *answers)), {f"stock('k',{fact[1][1]})" for fact in (low, high)})
+                self.assertEqual(set(self.told(question, *answers)),
+                                 {f"stock('k',{fact[1][1]})" for fact in (low, high)})
                 self.told(question, *answers[::-1])
                 for answer in answers:
                     self.assertIsNone(witness(S, self.p, question, answer, answer))
@@ -555,7 +594,8 @@ class Witnesses(unittest.TestCase):
     def test_none_for_others(self):
         one = answer_of(P, STATE, (), QUESTION)
         other = answer_of(P, state_with(BOOK, {**T, "link": (("a", "c"),)}), (), QUESTION)
-        for pair in ((one, one), (one, other), (other, one), (None, None), (one, None), ((), one), (one, one[:2]), ((one[0], (), one[2]), one),
+        for pair in ((one, one), (one, other), (other, one), (None, None), (one, None), ((), one), (one, one[:2]),
+                     ((one[0], (), one[2]), one),
                      (one, (one[0], one[1], (*one[2][:3], ("leaf", ()))))):
             self.assertIsNone(witness(S, P, QUESTION, *pair))
         for thing in odd_things():
@@ -579,7 +619,8 @@ class Costs(unittest.TestCase):
     def test_small_ones(self):
         self.assertEqual(cost(TOLD), (len(facts_of(TOLD[2][3])), repr(TOLD[2][3]).count("'cut'"), 1 + 2))
         self.assertEqual(cost((((7, 1),), (), ((), (), (), ("cut", 1, 1)))), (0, 1, 0))
-        self.assertEqual(cost(((), (), ((), (1, 2), (3,), ("node", (("cut", 1, 1), ("leaf", (4, 5)), ("cut", 1, 1)), (6, 7))))), (4, 2, 3))
+        self.assertEqual(cost(((), (), ((), (1, 2), (3,), ("node", (("cut", 1, 1), ("leaf", (4, 5)), ("cut", 1, 1)),
+                                                           (6, 7))))), (4, 2, 3))
         node = ("node", (("cut", 1, 1), ("leaf", (4,))), (6,))
         self.assertEqual(cost(((), (), ((), (), (), ("node", (node, ("leaf", ()), node), (1, 2))))), (6, 2, 0))
 
@@ -615,7 +656,8 @@ class Costs(unittest.TestCase):
 
     def test_equal_states_have_equal_answers(self):
         """However they came about."""
-        deeds = [("rule", "one", NEAR), ("rule", "two", FAR), ("bring", "link", ("a", "b")), ("bring", "link", ("b", "c")), ("bring", "link", ("c", "a"))]
+        deeds = [("rule", "one", NEAR), ("rule", "two", FAR), ("bring", "link", ("a", "b")),
+                 ("bring", "link", ("b", "c")), ("bring", "link", ("c", "a"))]
         one = led(*deeds)
         for order in ((1, 0, 4, 3, 2), (4, 1, 2, 0, 3)):
             other = led(*[deeds[at] for at in order])

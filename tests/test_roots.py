@@ -7,7 +7,8 @@ from shownviews.roots import root_number, tree_of
 from shownviews.ruletexts import rule_text
 from shownviews.states import State, joined, next_edit, tables, titles, with_edit
 from shownviews.trees import Tree, looked, made, unlike
-from tests.helpers import (ANY, FAR, NEAR, S, chances, random_edits, rule, some_order, state_from, told_by, unchanged, v)
+from tests.helpers import (ANY, FAR, NEAR, S, chances, random_edits, rule, some_order, state_from, told_by, unchanged,
+                           v)
 from tests.slowly import order_of, slow_mix
 from tests.test_mixing import not_primes
 
@@ -61,7 +62,8 @@ class Roots(unittest.TestCase):
 
     def test_deeds_of_all_kinds(self):
         deeds = [("put", "name", ("k", "v")), ("put", "name", ("l", "w")), ("take", "name", ("k",)),
-                 ("add", "stock", ("x",), 10 ** 20 - 1), ("add", "stock", ("x",), 10 ** 20 - 1), ("add", "stock", ("y",), -5),
+                 ("add", "stock", ("x",), 10 ** 20 - 1), ("add", "stock", ("x",), 10 ** 20 - 1),
+                 ("add", "stock", ("y",), -5),
                  ("add", "stock", ("y",), 5), ("bring", "link", ("a'~", "b")), ("bring", "link", ("", " ")),
                  ("drop", "link", ("a'~", "b")), ("rule", "one", ODD_RULE), ("rule", "two", FAR), ("unrule", "two"),
                  ("rule", "three", NEAR)]
@@ -96,7 +98,8 @@ class Roots(unittest.TestCase):
         for p in PRIMES:
             self.assertEqual(root_number(p, one), root_number(p, other))
         # Nothing of what was taken, and nothing of sums of 0, is in the tree.
-        gone = led(("put", "name", ("k", "v")), ("take", "name", ("k",)), ("add", "stock", ("x",), 3), ("add", "stock", ("x",), -3),
+        gone = led(("put", "name", ("k", "v")), ("take", "name", ("k",)), ("add", "stock", ("x",), 3),
+                   ("add", "stock", ("x",), -3),
                    ("rule", "one", NEAR), ("unrule", "one"))
         self.assertEqual(tree_of(P, gone), tree_of(P, State(S)))
 

@@ -86,7 +86,8 @@ class Begun(unittest.TestCase):
 class Opened(unittest.TestCase):
     def test_the_greatest_generation(self):
         one, two, three = (record(n, f"first f{n}") + record(1, f"e{n}") for n in (1, 2, 3))
-        for texts, where in (((one, two), 1), ((two, one), 0), ((one, three, two), 1), (("", one), 1), ((two, ""), 0), (("x", "", one), 2),
+        for texts, where in (((one, two), 1), ((two, one), 0), ((one, three, two), 1), (("", one), 1), ((two, ""), 0),
+                             (("x", "", one), 2),
                              ((one, "x" + two), 0)):
             disk = disk_of(*texts)
             store = Store(disk)
@@ -96,21 +97,27 @@ class Opened(unittest.TestCase):
 
     def test_entries_as_long_as_their_numbers_go_on(self):
         first = record(5, "first  f ")
-        for tail, entries in (("", []), (record(1, "a"), ["a"]), (record(2, "a"), []), (record(0, "a"), []), (record(5, "a"), []),
+        for tail, entries in (("", []), (record(1, "a"), ["a"]), (record(2, "a"), []), (record(0, "a"), []),
+                              (record(5, "a"), []),
                               (record(1, "a") + record(2, "") + record(3, "c"), ["a", "", "c"]),
-                              (record(1, "a") + record(1, "b"), ["a"]), (record(1, "a") + record(3, "b") + record(2, "b"), ["a"]),
+                              (record(1, "a") + record(1, "b"), ["a"]),
+                              (record(1, "a") + record(3, "b") + record(2, "b"), ["a"]),
                               (record(1, "a") + "1 1", ["a"]), (record(1, "a") + record(2, "b")[:-1], ["a"]),
-                              (record(1, "first x") + record(2, "b"), ["first x", "b"]), ("spoilt" + record(1, "a"), []),
+                              (record(1, "first x") + record(2, "b"), ["first x", "b"]),
+                              ("spoilt" + record(1, "a"), []),
                               (record(6, "first g"), [])):
-            for texts in ((first + tail, ""), ("", first + tail), (record(4, "first old") + record(1, "old"), first + tail)):
+            for texts in ((first + tail, ""), ("", first + tail), (record(4, "first old") + record(1, "old"),
+                                                                   first + tail)):
                 disk = disk_of(*texts)
                 store = Store(disk)
                 self.assertEqual((store.generation(), store.first(), store.entries()), (5, " f ", entries))
                 self.assertEqual(disk.texts(), texts)
 
     def test_areas_that_hold_none(self):
-        for text in ("", "x", record(1, "firs x"), record(1, "first"), record(1, "First x"), record(1, " first x"), record(0, "first x"),
-                     record(1, "x") + record(2, "first x"), record(1, "first x")[:-1], record(1, "first x")[1:], " " + record(1, "first x"),
+        for text in ("", "x", record(1, "firs x"), record(1, "first"), record(1, "First x"), record(1, " first x"),
+                     record(0, "first x"),
+                     record(1, "x") + record(2, "first x"), record(1, "first x")[:-1], record(1, "first x")[1:],
+                     " " + record(1, "first x"),
                      "\n" + record(1, "first x")):
             self.assertRaises(NoStore, Store, disk_of(text))
             self.assertRaises(NoStore, Store, disk_of("", text, text))
@@ -169,9 +176,11 @@ class Adding(unittest.TestCase):
                 if full:
                     where, entries = (where + 1) % areas, []
                     self.assertEqual(store.first(), f"n{at}")
-                    self.assertEqual(disk.texts()[where], slow_record(store.generation(), f"first n{at}") + slow_record(1, body))
+                    self.assertEqual(disk.texts()[where], slow_record(store.generation(),
+                                                                      f"first n{at}") + slow_record(1, body))
                     # All but the entry is sure.
-                    self.assertEqual(disk.open_deeds(), tuple((record(1, body),) if area == where else () for area in range(areas)))
+                    self.assertEqual(disk.open_deeds(),
+                                     tuple((record(1, body),) if area == where else () for area in range(areas)))
                     for area in range(areas):
                         if area != where:
                             self.assertEqual(disk.texts()[area], before[area])
@@ -189,7 +198,8 @@ class Adding(unittest.TestCase):
             store.add("b", now.tell)
             self.assertEqual(now.called, 1)
             self.assertEqual(told_by(store), (1, 4, "g", ["b"]))
-            self.assertEqual(disk.texts(), (record(3, "first f") + record(1, "a") + tail, record(4, "first g") + record(1, "b")))
+            self.assertEqual(disk.texts(), (record(3, "first f") + record(1, "a") + tail,
+                                            record(4, "first g") + record(1, "b")))
 
     def test_errors_of_add(self):
         disk = disk_of(record(3, "first f") + record(1, "a") + "x", "junk", room=200)
@@ -298,8 +308,10 @@ class Falls(unittest.TestCase):
         self.assertEqual(told_by(store), (0, 1, "f", ["a"]))
         self.assertEqual(disk.open_deeds(), ((record(1, "a"),), ()))
         self.assertIsNone(store.fall((NOTHING, NOTHING)))
-        for call, given in ((store.where, ()), (store.generation, ()), (store.first, ()), (store.entries, ()), (store.add, (None, None)),
-                            (store.add, ("a", never)), (store.turn, (None,)), (store.turn, ("g",)), (store.sure, ()), (store.fall, (None,)),
+        for call, given in ((store.where, ()), (store.generation, ()), (store.first, ()), (store.entries, ()),
+                            (store.add, (None, None)),
+                            (store.add, ("a", never)), (store.turn, (None,)), (store.turn, ("g",)), (store.sure, ()),
+                            (store.fall, (None,)),
                             (store.fall, ((NOTHING, NOTHING),))):
             self.assertRaises(Down, call, *given)
         self.assertEqual(disk.texts(), (record(1, "first f"), ""))
@@ -313,8 +325,10 @@ class Falls(unittest.TestCase):
         store.add("b", never)
         store.add("c", never)
         line = record(2, "b")
-        for kept, entries, clean in ((NOTHING, ["a"], True), ((1, 0, ""), ["a", "b"], True), ((2, 0, ""), ["a", "b", "c"], True),
-                                     ((0, len(line) - 1, ""), ["a"], False), ((1, 3, "x"), ["a", "b"], False), ((2, 0, "x"), ["a", "b", "c"], False),
+        for kept, entries, clean in ((NOTHING, ["a"], True), ((1, 0, ""), ["a", "b"], True),
+                                     ((2, 0, ""), ["a", "b", "c"], True),
+                                     ((0, len(line) - 1, ""), ["a"], False), ((1, 3, "x"), ["a", "b"], False),
+                                     ((2, 0, "x"), ["a", "b", "c"], False),
                                      ((0, len(line) - 1, "9 1"), ["a"], False), ((0, 0, line[:-1]), ["a"], False)):
             other = disk.copy()
             Store(other).fall((kept, NOTHING))

@@ -7,13 +7,16 @@ from shownviews.errors import NoSchema, NoText
 from shownviews.ruletexts import rule_text
 from shownviews.states import State, joined, next_edit, with_edit
 from shownviews.texts import edit_text, read_edit, read_state, state_text
-from tests.helpers import (ANY, FAR, NEAR, S, chances, odd_things, random_edits, rule, state_from, told_by, unchanged, v)
+from tests.helpers import (ANY, FAR, NEAR, S, chances, odd_things, random_edits, rule, state_from, told_by, unchanged,
+                           v)
 from tests.slowly import slow_worth_text
 
-ODD_RULE = rule("x", ["it's ~ ;", v(3), -5], ("less", v(3), "~~''"), ("is", "link", (v(3), ANY)), ("sum", 3, "b", (1, ANY, ANY), 1))
+ODD_RULE = rule("x", ["it's ~ ;", v(3), -5], ("less", v(3), "~~''"), ("is", "link", (v(3), ANY)),
+                ("sum", 3, "b", (1, ANY, ANY), 1))
 WIDE = (("a", 0, ("word", "number")), ("b", 2, ("number", "word", "word")), ("c", "sum", ("number",)),
         ("d", "sum", ("word", "number", "number")), ("e", "bag", ("number",)), ("f", "bag", ("word", "word")))
-WORDS = ["", " ", "a", "'", "~", "~'", "''", "a,b", " ; ", "'~'~", "7:1", "-", "a b", "=", "~~v", "rule", "x" * 20, ";", "not"]
+WORDS = ["", " ", "a", "'", "~", "~'", "''", "a,b", " ; ", "'~'~", "7:1", "-", "a b", "=", "~~v", "rule", "x" * 20, ";",
+         "not"]
 
 
 def slow_mark(mark):
@@ -60,11 +63,13 @@ def wide_deeds():
     told = []
     for at, word in enumerate(WORDS):
         other = WORDS[-1 - at]
-        told += [("put", "a", (word, at)), ("put", "b", (-at, word, other)), ("take", "b", (at, word)), ("add", "c", (), at + 1),
+        told += [("put", "a", (word, at)), ("put", "b", (-at, word, other)), ("take", "b", (at, word)),
+                 ("add", "c", (), at + 1),
                  ("add", "d", (word, 10 ** 20 - 1), -at - 1), ("bring", "e", (at - 9,)), ("bring", "f", (word, other)),
                  ("drop", "f", (other, word)), ("rule", "abcdefgh"[:at % 8 + 1], (NEAR, FAR, ODD_RULE)[at % 3]),
                  ("unrule", "abcdefgh"[at % 8:])]
-    return told + [("take", "a", ()), ("put", "a", ("~'", -(10 ** 20 - 1))), ("drop", "e", (3,)), ("add", "c", (), -10 ** 19)]
+    return told + [("take", "a", ()), ("put", "a", ("~'", -(10 ** 20 - 1))), ("drop", "e", (3,)),
+                   ("add", "c", (), -10 ** 19)]
 
 
 def all_wrong(text, put):
@@ -80,7 +85,8 @@ def all_wrong(text, put):
 class Edits(unittest.TestCase):
     def test_examples(self):
         for text, edit in (("7 1 1 - bring link 'a','b'", (7, 1, 1, (), ("bring", "link", ("a", "b")))),
-                           ("8 3 9 7:2,8:2 put name 'k','~~v'", (8, 3, 9, ((7, 2), (8, 2)), ("put", "name", ("k", "~v")))),
+                           ("8 3 9 7:2,8:2 put name 'k','~~v'", (8, 3, 9, ((7, 2), (8, 2)),
+                                                                 ("put", "name", ("k", "~v")))),
                            ("7 4 5 7:3 rule r 'near(?0) if link(?0, _)'", (7, 4, 5, ((7, 3),), (
                                "rule", "r", rule("near", [v(0)], ("is", "link", (v(0), ANY)))))),
                            ("7 1 1 - take name '~''", (7, 1, 1, (), ("take", "name", ("'",)))),
@@ -130,29 +136,45 @@ class Edits(unittest.TestCase):
     def test_no_texts(self):
         good = "7 1 1 - bring link 'a','b'"
         read_edit(S, good)
-        self.no_edit("", " ", good + " ", " " + good, good + "\n", good.replace(" ", "  ", 1), "07" + good[1:], "0" + good[1:],
-                     "1000" + good[1:], "7 0 1 - bring link 'a','b'", "7 1 0 - bring link 'a','b'", "7 1 01 - bring link 'a','b'",
+        self.no_edit("", " ", good + " ", " " + good, good + "\n", good.replace(" ", "  ", 1), "07" + good[1:],
+                     "0" + good[1:],
+                     "1000" + good[1:], "7 0 1 - bring link 'a','b'", "7 1 0 - bring link 'a','b'",
+                     "7 1 01 - bring link 'a','b'",
                      "7 2 1 - bring link 'a','b'", "7 1 1 7:1 bring link 'a','b'", "7 2 3 7:2 bring link 'a','b'",
-                     "7 2 3 8:1,7:1 bring link 'a','b'", "7 2 3 7:1,7:1 bring link 'a','b'", "7 2 3 7:01 bring link 'a','b'",
-                     "7 2 3 -,7:1 bring link 'a','b'", "7 2 3 7:1, bring link 'a','b'", "7 2 3 7:1,0:1 bring link 'a','b'",
+                     "7 2 3 8:1,7:1 bring link 'a','b'", "7 2 3 7:1,7:1 bring link 'a','b'",
+                     "7 2 3 7:01 bring link 'a','b'",
+                     "7 2 3 -,7:1 bring link 'a','b'", "7 2 3 7:1, bring link 'a','b'",
+                     "7 2 3 7:1,0:1 bring link 'a','b'",
                      "7 2 3 7:1,8:0 bring link 'a','b'", "7 2 3 7:1,1000:1 bring link 'a','b'",
-                     "7 1 1 - bring link 'a'", "7 1 1 - bring link 'a','b','c'", "7 1 1 - bring link 'a',1", "7 1 1 - bring link 1,2",
+                     "7 1 1 - bring link 'a'", "7 1 1 - bring link 'a','b','c'", "7 1 1 - bring link 'a',1",
+                     "7 1 1 - bring link 1,2",
                      "7 1 1 - bring link 'a', 'b'", "7 1 1 - bring link 'a','b", "7 1 1 - bring link 'a','b\n'",
-                     "7 1 1 - bring link 'a','" + "b" * 21 + "'", "7 1 1 - bring link 'a','~b'", "7 1 1 - bring link 'a',''b'",
-                     "7 1 1 - bring name 'a','b'", "7 1 1 - bring none 'a','b'", "7 1 1 - put link 'a','b'", "7 1 1 - take link 'a'",
-                     "7 1 1 - take name 'a','b'", "7 1 1 - take name -", "7 1 1 - put name 'a'", "7 1 1 - add stock 'a' 0",
-                     "7 1 1 - add stock 'a' -0", "7 1 1 - add stock 'a' 01", "7 1 1 - add stock 'a' +1", "7 1 1 - add stock 'a' " + "9" * 21,
-                     "7 1 1 - add stock 'a'", "7 1 1 - add stock 'a',1", "7 1 1 - add stock 'a' 1 ", "7 1 1 - add stock 'a' " + "9" * 5000,
-                     "7 1 1 - add name 'a' 1", "7 1 1 - rule r near(?0) if link(?0, _)", "7 1 1 - rule r 'near(?0) if link(?0)'",
-                     "7 1 1 - rule r 'link(?0, ?1) if link(?0, ?1)'", "7 1 1 - rule r ''", "7 1 1 - rule R 'near(1) if 1 = 1'",
-                     "7 1 1 - rule abcdefghi 'near(1) if 1 = 1'", "7 1 1 - rule r 'near(01) if 1 = 1'", "7 1 1 - unrule",
-                     "7 1 1 - unrule ", "7 1 1 - unrule a b", "7 1 1 - unrule abcdefghi", "7 1 1 - swap link 'a','b'", "7 1 1 -",
-                     "7 1 1", "9" * 20000, "7 " + "9" * 19000 + " 1 - unrule a", "-7 1 1 - unrule a", "7 1 1 - - unrule a")
+                     "7 1 1 - bring link 'a','" + "b" * 21 + "'", "7 1 1 - bring link 'a','~b'",
+                     "7 1 1 - bring link 'a',''b'",
+                     "7 1 1 - bring name 'a','b'", "7 1 1 - bring none 'a','b'", "7 1 1 - put link 'a','b'",
+                     "7 1 1 - take link 'a'",
+                     "7 1 1 - take name 'a','b'", "7 1 1 - take name -", "7 1 1 - put name 'a'",
+                     "7 1 1 - add stock 'a' 0",
+                     "7 1 1 - add stock 'a' -0", "7 1 1 - add stock 'a' 01", "7 1 1 - add stock 'a' +1",
+                     "7 1 1 - add stock 'a' " + "9" * 21,
+                     "7 1 1 - add stock 'a'", "7 1 1 - add stock 'a',1", "7 1 1 - add stock 'a' 1 ",
+                     "7 1 1 - add stock 'a' " + "9" * 5000,
+                     "7 1 1 - add name 'a' 1", "7 1 1 - rule r near(?0) if link(?0, _)",
+                     "7 1 1 - rule r 'near(?0) if link(?0)'",
+                     "7 1 1 - rule r 'link(?0, ?1) if link(?0, ?1)'", "7 1 1 - rule r ''",
+                     "7 1 1 - rule R 'near(1) if 1 = 1'",
+                     "7 1 1 - rule abcdefghi 'near(1) if 1 = 1'", "7 1 1 - rule r 'near(01) if 1 = 1'",
+                     "7 1 1 - unrule",
+                     "7 1 1 - unrule ", "7 1 1 - unrule a b", "7 1 1 - unrule abcdefghi", "7 1 1 - swap link 'a','b'",
+                     "7 1 1 -",
+                     "7 1 1", "9" * 20000, "7 " + "9" * 19000 + " 1 - unrule a", "-7 1 1 - unrule a",
+                     "7 1 1 - - unrule a")
         self.assertEqual(read_edit(S, "7 1 1 - rule r 'near(1) if 1 = 1'")[4][0], "rule")
 
     def test_just_the_schema_s_own(self):
         """An edit of another schema is no edit here."""
-        for schema, text in ((S, "1 1 1 - add c - 4"), (WIDE, "7 1 1 - bring link 'a','b'"), (WIDE, "1 1 1 - rule r 'a(1) if 1 = 1'"),
+        for schema, text in ((S, "1 1 1 - add c - 4"), (WIDE, "7 1 1 - bring link 'a','b'"),
+                             (WIDE, "1 1 1 - rule r 'a(1) if 1 = 1'"),
                              (S, "1 1 1 - rule r 'stock('a~', 1) if 1 = 1'")):
             self.no_edit(text, schema=schema)
         self.assertEqual(read_edit(S, "1 1 1 - rule r 'a(1) if 1 = 1'")[4][2][0][0], "a")
@@ -188,8 +210,10 @@ class States(unittest.TestCase):
     def test_examples(self):
         text = "7:2,8:3 9 ; cell name 'k' 9 8 ='~~v' ; cell name 'm' 3 8 - ; sum stock 'x' 7 3 ; sum stock 'y' 8 -3 ; bag link 'a','b' 7:1"
         state = read_state(S, text)
-        self.assertEqual(told_by(state), (((7, 2), (8, 3)), 9, {("name", ("k",)): (9, 8, ("~v",)), ("name", ("m",)): (3, 8, None)},
-                                          {("stock", ("x",), 7): 3, ("stock", ("y",), 8): -3}, {("link", ("a", "b")): ((7, 1),)}, {}))
+        self.assertEqual(told_by(state),
+                         (((7, 2), (8, 3)), 9, {("name", ("k",)): (9, 8, ("~v",)), ("name", ("m",)): (3, 8, None)},
+                                          {("stock", ("x",), 7): 3, ("stock", ("y",), 8): -3},
+                          {("link", ("a", "b")): ((7, 1),)}, {}))
         self.assertEqual(state_text(state), text)
         schema = (("all", 0, ("word", "word")), ("total", "sum", ("number",)))
         text = "7:9 9 ; cell all - 9 7 ='a','b' ; sum total - 7 -3 ; rule a 1 7 - ; rule b 2 7 'x(1) if all(_, ?0), ?0 != ~'~''"
@@ -228,11 +252,13 @@ class States(unittest.TestCase):
             state = with_edit(state, next_edit(state, 1, ("add", "d", (str(number), number), 1)))
         parts = state_text(state).split(" ; ")[1:]
         self.assertEqual([part.split()[2] for part in parts if part[:3] == "bag"], ["-1", "9", "10", "100"])
-        self.assertEqual([part.split()[2] for part in parts if part[:3] == "sum"], ["'-1',-1", "'10',10", "'100',100", "'9',9"])
+        self.assertEqual([part.split()[2] for part in parts if part[:3] == "sum"],
+                         ["'-1',-1", "'10',10", "'100',100", "'9',9"])
         state = State(S)
         for life in (100, 20, 3):
             state = with_edit(state, next_edit(state, life, ("add", "stock", ("x",), life)))
-        self.assertEqual(state_text(state), "3:1,20:1,100:1 3 ; sum stock 'x' 3 3 ; sum stock 'x' 20 20 ; sum stock 'x' 100 100")
+        self.assertEqual(state_text(state),
+                         "3:1,20:1,100:1 3 ; sum stock 'x' 3 3 ; sum stock 'x' 20 20 ; sum stock 'x' 100 100")
 
     GOOD = ("7:2,8:3 9 ; cell name 'k' 9 8 ='~~v' ; cell name 'm' 3 8 - ; sum stock 'x' 7 3 ; sum stock 'x' 8 0 ; "
             "bag link 'a','b' 7:1,8:3 ; rule a 2 7 - ; rule b 1 8 'x(?0) if link(?0, _)'")
@@ -256,28 +282,42 @@ class States(unittest.TestCase):
         self.no_state(" ; ".join(parts[1:]))
 
     def test_lives_numbers_and_heights_that_do_not_stand(self):
-        for part in ("cell name 'k' 10 8 ='v'", "cell name 'k' 0 8 ='v'", "cell name 'k' 9 9 ='v'", "cell name 'k' 9 0 -", "cell name 'k' 10 7 -",
-                     "sum stock 'x' 9 3", "sum stock 'x' 0 3", "sum stock 'x' 1 1", "bag link 'a','b' 7:3", "bag link 'a','b' 8:4",
+        for part in ("cell name 'k' 10 8 ='v'", "cell name 'k' 0 8 ='v'", "cell name 'k' 9 9 ='v'",
+                     "cell name 'k' 9 0 -", "cell name 'k' 10 7 -",
+                     "sum stock 'x' 9 3", "sum stock 'x' 0 3", "sum stock 'x' 1 1", "bag link 'a','b' 7:3",
+                     "bag link 'a','b' 8:4",
                      "bag link 'a','b' 9:1", "bag link 'a','b' 7:0", "bag link 'a','b' -", "bag link 'a','b' 8:1,7:1",
-                     "bag link 'a','b' 7:1,7:1", "bag link 'a','b' 7:2,7:1", "bag link 'a','b' 7:1,", "bag link 'a','b' ", "bag link 'a','b'",
-                     "rule a 10 7 -", "rule a 0 7 -", "rule a 1 6 -", "rule a 1 7 'x(?0) if link(?0)'", "rule a 1 7 x(1) if 1 = 1",
-                     "rule A 1 7 -", "rule abcdefghi 1 7 -", "rule a 1 7", "rule a 1 7 ", "rule a 1 7 =", "rule a 01 7 -", "rule a 1 07 -",
-                     "cell name 'k' 09 8 -", "cell name 'k' 9 8 =", "cell name 'k' 9 8 =-", "cell name 'k' 9 8 'v'", "cell name - 9 8 -",
-                     "cell name 'k','v' 9 8 -", "cell name 'k' 9 8 ='v','w'", "cell name 1 9 8 -", "cell link 'k' 9 8 -", "cell stock 'x' 9 8 -",
-                     "cell none 'x' 9 8 -", "cell name 'k' 9 8 ='" + "v" * 21 + "'", "cell name '" + "v" * 21 + "' 9 8 -", "sum name 'k' 7 1",
-                     "sum stock 'x' 7 01", "sum stock 'x' 7 -0", "sum stock 'x' 7 +1", "sum stock 'x' 7", "sum stock 'x',1 7 3", "sum link 'a' 7 3",
-                     "sum stock - 7 3", "sum stock 'x' 7 3 3", "bag name 'a','b' 7:1", "bag link 'a' 7:1", "bag link 'a','b','c' 7:1", "bag link 'a',1 7:1",
-                     "bag stock 'a',1 7:1", "put name 'k','v'", "", " ", "-", "cell", "rule", "sum stock 'x' 7 " + "9" * 5000,
+                     "bag link 'a','b' 7:1,7:1", "bag link 'a','b' 7:2,7:1", "bag link 'a','b' 7:1,",
+                     "bag link 'a','b' ", "bag link 'a','b'",
+                     "rule a 10 7 -", "rule a 0 7 -", "rule a 1 6 -", "rule a 1 7 'x(?0) if link(?0)'",
+                     "rule a 1 7 x(1) if 1 = 1",
+                     "rule A 1 7 -", "rule abcdefghi 1 7 -", "rule a 1 7", "rule a 1 7 ", "rule a 1 7 =",
+                     "rule a 01 7 -", "rule a 1 07 -",
+                     "cell name 'k' 09 8 -", "cell name 'k' 9 8 =", "cell name 'k' 9 8 =-", "cell name 'k' 9 8 'v'",
+                     "cell name - 9 8 -",
+                     "cell name 'k','v' 9 8 -", "cell name 'k' 9 8 ='v','w'", "cell name 1 9 8 -",
+                     "cell link 'k' 9 8 -", "cell stock 'x' 9 8 -",
+                     "cell none 'x' 9 8 -", "cell name 'k' 9 8 ='" + "v" * 21 + "'",
+                     "cell name '" + "v" * 21 + "' 9 8 -", "sum name 'k' 7 1",
+                     "sum stock 'x' 7 01", "sum stock 'x' 7 -0", "sum stock 'x' 7 +1", "sum stock 'x' 7",
+                     "sum stock 'x',1 7 3", "sum link 'a' 7 3",
+                     "sum stock - 7 3", "sum stock 'x' 7 3 3", "bag name 'a','b' 7:1", "bag link 'a' 7:1",
+                     "bag link 'a','b','c' 7:1", "bag link 'a',1 7:1",
+                     "bag stock 'a',1 7:1", "put name 'k','v'", "", " ", "-", "cell", "rule",
+                     "sum stock 'x' 7 " + "9" * 5000,
                      "bag link 'a','b\n' 7:1", "sum rule 'x' 7 3", "cells name 'k' 9 8 -"):
             self.no_state(f"7:2,8:3 9 ; {part}")
-        for part in ("cell name 'k' 9 8 ='v'", "cell name 'k' 1 7 -", "sum stock 'x' 7 0", "sum stock 'x' 7 " + "9" * 4000, "bag link 'a','b' 7:1,7:2,8:3",
+        for part in ("cell name 'k' 9 8 ='v'", "cell name 'k' 1 7 -", "sum stock 'x' 7 0",
+                     "sum stock 'x' 7 " + "9" * 4000, "bag link 'a','b' 7:1,7:2,8:3",
                      "rule a 9 8 -", "rule link 1 7 -"):
             text = f"7:2,8:3 9 ; {part}"
             self.assertEqual(state_text(read_state(S, text)), text)
 
     def test_marks_and_heights(self):
-        self.no_state("- 1", "7:1 0", "0", "-", "- ", "-0", "- 00", "7:1 01", "7:1", "7:1 ", "7:0 1", "0:1 1", "1000:1 1", "8:1,7:1 1", "7:1,7:2 1",
-                      "7:1, 8:1 1", "7:1,8:1,1", "", " - 0", "- 0 ", "- 0 ;", "- 0 ; ", "- 0 ;  ", "- 0 ; rule a 1 1 -", "- 0 ; sum stock 'x' 1 1",
+        self.no_state("- 1", "7:1 0", "0", "-", "- ", "-0", "- 00", "7:1 01", "7:1", "7:1 ", "7:0 1", "0:1 1",
+                      "1000:1 1", "8:1,7:1 1", "7:1,7:2 1",
+                      "7:1, 8:1 1", "7:1,8:1,1", "", " - 0", "- 0 ", "- 0 ;", "- 0 ; ", "- 0 ;  ", "- 0 ; rule a 1 1 -",
+                      "- 0 ; sum stock 'x' 1 1",
                       "- 0\n", "7:1 -1", "7:+1 1", "7:" + "9" * 5000 + " 1", "7:1 " + "9" * 5000, "a:1 1", "7 1")
         for text in ("7:1 1", "1:1,999:" + "9" * 39 + " " + "9" * 39, "7:3 1"):
             self.assertEqual(told_by(read_state(S, text))[2:], ({}, {}, {}, {}))

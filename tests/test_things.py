@@ -41,7 +41,8 @@ def is_whole(text):
 
 def can_go_on(text):
     """Whether a text of a thing begins so."""
-    return any(is_whole(text + end + ")" * many) for end in ("", "1", "'", "''") for many in range(min(31, text.count("(") + 1)))
+    return any(is_whole(text + end + ")" * many) for end in ("", "1", "'", "''")
+               for many in range(min(31, text.count("(") + 1)))
 
 
 def slow_place(text):
@@ -58,8 +59,10 @@ def is_like(thing, other):
     return type(thing) is type(other) and thing == other and repr(thing) == repr(other)
 
 
-THINGS = [0, 1, -1, 7, -10, 10 ** 20, -10 ** 20 + 1, 10 ** 3999, 10 ** 4000 - 1, -(10 ** 4000 - 1), None, "", "a", "'", "~", "~'", "''", "\n",
-          SIGNS, "(1,2)", ".", "x" * 5000, (), (None,), (1,), ((),), ("", ""), (1, (2, "'~", None, ()), "\n", ((((),),),)), NEAR, S,
+THINGS = [0, 1, -1, 7, -10, 10 ** 20, -10 ** 20 + 1, 10 ** 3999, 10 ** 4000 - 1, -(10 ** 4000 - 1), None, "", "a", "'",
+          "~", "~'", "''", "\n",
+          SIGNS, "(1,2)", ".", "x" * 5000, (), (None,), (1,), ((),), ("", ""),
+          (1, (2, "'~", None, ()), "\n", ((((),),),)), NEAR, S,
           deep(tuple, 30), tuple(range(300))]
 
 
@@ -71,7 +74,8 @@ class Packed(unittest.TestCase):
             self.assertTrue(is_like(unpacked(text), thing))
 
     def test_small_ones(self):
-        for thing, text in ((12, "12"), (-3, "-3"), (0, "0"), (None, "."), ("", "''"), ("it's ~", "'it~'s ~~'"), ((), "()"), ((1,), "(1)"),
+        for thing, text in ((12, "12"), (-3, "-3"), (0, "0"), (None, "."), ("", "''"), ("it's ~", "'it~'s ~~'"),
+                            ((), "()"), ((1,), "(1)"),
                             ((1, None, ("a", ())), "(1,.,('a',()))"), ("a\nb", "'a\nb'")):
             self.assertEqual(packed(thing), text)
             self.assertTrue(is_like(unpacked(text), thing))
@@ -92,7 +96,8 @@ class Packed(unittest.TestCase):
             self.assertTrue(is_like(unpacked(packed(thing)), thing))
 
     def test_no_things(self):
-        bad = [True, False, [], {}, b"", "\t", "\u00e4", "a\r", print, State(S), range(2), ValueError("x"), object(), bytearray(1), 10 ** 4000,
+        bad = [True, False, [], {}, b"", "\t", "\u00e4", "a\r", print, State(S), range(2), ValueError("x"), object(),
+               bytearray(1), 10 ** 4000,
                -10 ** 4000, 10 ** 6000]
         for thing in bad:
             for one in (thing, (thing,), (1, (thing, 2)), ((((thing,),),),)):
@@ -136,11 +141,16 @@ class Unpacked(unittest.TestCase):
         return wanted is None
 
     def test_each_kind_of_break(self):
-        for text, place in (("", 0), ("-", 1), ("-0", 1), ("-01", 1), ("01", 1), ("00", 1), ("0 ", 1), ("12x", 2), ("12,", 2), ("1)", 1), ("--1", 1),
-                            ("-a", 1), ("+1", 0), (" 1", 0), ("1 ", 1), ("a", 0), ("..", 1), (".1", 1), ("'", 1), ("'a", 2), ("'a'b", 3), ("'~", 2),
-                            ("'~a'", 2), ("'a~'", 4), ("'''", 2), ("(", 1), ("(1", 2), ("(1,", 3), ("(,", 1), ("(1,)", 3), ("(1,,2)", 3), ("(1 ,2)", 2),
-                            ("(1, 2)", 3), ("()x", 2), ("())", 2), ("(()", 3), ("(01)", 2), ("(-0)", 2), ("(1.)", 2), ("(1'a')", 2), (")", 0), (",", 0),
-                            ("('a', 'b')", 5), ("_", 0), ("None", 0), ("1\n", 1), ("\n", 0), ("(\n", 1), ("1_0", 1), ("1.0", 1), ("1e5", 1), ("~", 0)):
+        for text, place in (("", 0), ("-", 1), ("-0", 1), ("-01", 1), ("01", 1), ("00", 1), ("0 ", 1), ("12x", 2),
+                            ("12,", 2), ("1)", 1), ("--1", 1),
+                            ("-a", 1), ("+1", 0), (" 1", 0), ("1 ", 1), ("a", 0), ("..", 1), (".1", 1), ("'", 1),
+                            ("'a", 2), ("'a'b", 3), ("'~", 2),
+                            ("'~a'", 2), ("'a~'", 4), ("'''", 2), ("(", 1), ("(1", 2), ("(1,", 3), ("(,", 1),
+                            ("(1,)", 3), ("(1,,2)", 3), ("(1 ,2)", 2),
+                            ("(1, 2)", 3), ("()x", 2), ("())", 2), ("(()", 3), ("(01)", 2), ("(-0)", 2), ("(1.)", 2),
+                            ("(1'a')", 2), (")", 0), (",", 0),
+                            ("('a', 'b')", 5), ("_", 0), ("None", 0), ("1\n", 1), ("\n", 0), ("(\n", 1), ("1_0", 1),
+                            ("1.0", 1), ("1e5", 1), ("~", 0)):
             self.assertEqual(self.place(text), place, text)
             self.assertEqual(slow_place(text), place, text)
 

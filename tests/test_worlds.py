@@ -4,7 +4,8 @@ import unittest
 
 from shownviews.disks import Disk
 from shownviews.edits import lacking
-from shownviews.errors import (BadDeed, BadDisk, BadKept, Down, NoDeed, NoMark, NoNumber, NoPattern, NoPrime, NoSchema, TooSmall)
+from shownviews.errors import (BadDeed, BadDisk, BadKept, Down, NoDeed, NoMark, NoNumber, NoPattern, NoPrime, NoSchema,
+                               TooSmall)
 from shownviews.houses import House, house_at
 from shownviews.papers import judge
 from shownviews.states import State
@@ -79,8 +80,10 @@ class Deeds(unittest.TestCase):
         self.assertEqual(world.do(("write", 2, "ann", None)), ("down", 2))
         self.assertEqual(world.do(("ask", 2, "ann", None)), ("down", 2))
         self.assertEqual(world.token("ann"), ((1, 1),))
-        self.assertEqual(world.told(), [("ann", ("told", 1, (1, ((1, 1),)))), ("ann", ("not yet", 2, ((1, 1, 1),))), ("ann", ("not yet", 2, ((1, 1, 1),))),
-                                        ("bob", ("told", 2, (1, ((2, 1),)))), ("cas", told), ("bob", ("down", 2)), ("ann", ("down", 2)), ("ann", ("down", 2))])
+        self.assertEqual(world.told(), [("ann", ("told", 1, (1, ((1, 1),)))), ("ann", ("not yet", 2, ((1, 1, 1),))),
+                                        ("ann", ("not yet", 2, ((1, 1, 1),))),
+                                        ("bob", ("told", 2, (1, ((2, 1),)))), ("cas", told), ("bob", ("down", 2)),
+                                        ("ann", ("down", 2)), ("ann", ("down", 2))])
 
     def test_errors_of_deeds_and_questions(self):
         world = world_of()
@@ -197,21 +200,27 @@ class Deeds(unittest.TestCase):
         world.do(("have", 1, 2))
         houses = (0, 4, -1, True, None, "1", 1.0, (1,), 10 ** 39)
         for wrong in houses:
-            self.bad(world, ("write", wrong, "ann", BRING), ("ask", wrong, "ann", ASK), ("have", wrong, 2), ("have", 1, wrong), ("forget", wrong, ()),
-                     ("turn", wrong), ("fall", wrong, (NOTHING, NOTHING)), ("open", wrong), ("ruin", wrong), ("anew", wrong))
+            self.bad(world, ("write", wrong, "ann", BRING), ("ask", wrong, "ann", ASK), ("have", wrong, 2),
+                     ("have", 1, wrong), ("forget", wrong, ()),
+                     ("turn", wrong), ("fall", wrong, (NOTHING, NOTHING)), ("open", wrong), ("ruin", wrong),
+                     ("anew", wrong))
         for client in ("", "Ann", "abcdefghi", "a b", None, 1, ("ann",), b"ann", True):
             self.bad(world, ("write", 1, client, BRING), ("ask", 1, client, ASK))
         for at in (1, -1, True, False, None, "0", 10 ** 39, (0,)):
             self.bad(world, ("bring", at), ("lose", at), ("double", at))
-        self.bad(world, ("have", 1, 1), ("open", 1), ("anew", 1), None, (), ("write",), ("write", 1, "ann"), ("write", 1, "ann", BRING, 1), ("ask", 1, "ann"),
-                 ("have", 1), ("have", 1, 2, 3), ("bring",), ("bring", 0, 0), ("lose",), ("double",), ("forget", 1), ("turn",), ("turn", 1, 1), ("fall", 1), ("open",),
-                 ("open", 1, 1), ("ruin",), ("anew",), ["turn", 1], ("Turn", 1), ("quiet",), ("house", 1), "turn", {"turn": 1}, (("turn", 1),), ("told",), (None, 1), ((), 1))
+        self.bad(world, ("have", 1, 1), ("open", 1), ("anew", 1), None, (), ("write",), ("write", 1, "ann"),
+                 ("write", 1, "ann", BRING, 1), ("ask", 1, "ann"),
+                 ("have", 1), ("have", 1, 2, 3), ("bring",), ("bring", 0, 0), ("lose",), ("double",), ("forget", 1),
+                 ("turn",), ("turn", 1, 1), ("fall", 1), ("open",),
+                 ("open", 1, 1), ("ruin",), ("anew",), ["turn", 1], ("Turn", 1), ("quiet",), ("house", 1), "turn",
+                 {"turn": 1}, (("turn", 1),), ("told",), (None, 1), ((), 1))
         for thing in odd_things():
             self.bad(world, (thing, 1), (thing, 1, "ann", BRING), (thing, 1, ()))
             if type(thing) is not tuple or thing[:1] != ("bring",):
                 self.bad(world, thing)
             if thing != 1 or thing is True:
-                self.bad(world, *[(word, thing) for word in ("turn", "open", "ruin", "anew")], ("have", 1, thing if thing not in (2, 3) else 1), ("write", thing, "ann", BRING))
+                self.bad(world, *[(word, thing) for word in ("turn", "open", "ruin", "anew")],
+                         ("have", 1, thing if thing not in (2, 3) else 1), ("write", thing, "ann", BRING))
             if thing != 0 or thing is False:
                 self.bad(world, *[(word, thing) for word in ("bring", "lose", "double")])
             if thing not in ("a", "link", "rule"):
@@ -220,10 +229,12 @@ class Deeds(unittest.TestCase):
     def test_what_can_not_be_done(self):
         world = world_of()
         world.do(("fall", 1, (NOTHING, NOTHING)))
-        self.bad(world, ("have", 1, 2), ("forget", 1, None), ("forget", 1, ()), ("turn", 1), ("fall", 1, None), ("fall", 1, (NOTHING, NOTHING)), ("anew", 1))
+        self.bad(world, ("have", 1, 2), ("forget", 1, None), ("forget", 1, ()), ("turn", 1), ("fall", 1, None),
+                 ("fall", 1, (NOTHING, NOTHING)), ("anew", 1))
         world.do(("have", 2, 1))
         world.do(("ruin", 1))
-        self.bad(world, ("open", 1), ("ruin", 1), ("have", 1, 2), ("forget", 1, ()), ("turn", 1), ("fall", 1, (NOTHING, NOTHING)))
+        self.bad(world, ("open", 1), ("ruin", 1), ("have", 1, 2), ("forget", 1, ()), ("turn", 1),
+                 ("fall", 1, (NOTHING, NOTHING)))
         self.assertEqual(world.do(("ask", 1, "ann", ASK)), ("down", 1))
         world.do(("anew", 1))
         self.bad(world, ("anew", 1), ("open", 1))
@@ -403,7 +414,10 @@ class Facts(unittest.TestCase):
     def some_deed(self, chance, slow):
         n = chance.randrange(1, slow.many + 1)
         client = chance.choice(["ann", "bob", "cas"])
-        word = chance.choice(["write"] * 5 + ["ask"] * 3 + ["have"] * 4 + ["bring"] * 8 + ["lose", "double", "double", "forget", "turn", "fall", "open", "open", "ruin", "anew", "anew"])
+        word = chance.choice(["write"] * 5 + ["ask"] * 3 + ["have"] * 4 + ["bring"] * 8 + ["lose", "double", "double",
+                                                                                           "forget", "turn", "fall",
+                                                                                           "open", "open", "ruin",
+                                                                                           "anew", "anew"])
         if word == "ruin" and chance.random() < 0.7:
             word = "have"
         if word in ("bring", "lose", "double"):
@@ -411,9 +425,12 @@ class Facts(unittest.TestCase):
         if word == "write":
             return (word, n, client, random_deed(chance))
         if word == "ask":
-            return (word, n, client, chance.choice([("near", (None, None)), ("near", ("a", None)), ("link", (None, "b")), ("stock", ("k", None)), ("none", (1,))]))
+            return (word, n, client,
+                    chance.choice([("near", (None, None)), ("near", ("a", None)), ("link", (None, "b")),
+                                   ("stock", ("k", None)), ("none", (1,))]))
         if word in ("open", "anew", "ruin"):
-            fine = {"open": not slow.up[n] and not slow.ruined[n], "anew": slow.ruined[n], "ruin": not slow.ruined[n]}[word]
+            fine = {"open": not slow.up[n] and not slow.ruined[n], "anew": slow.ruined[n],
+                    "ruin": not slow.ruined[n]}[word]
             return (word, n) if fine else None
         if not slow.up[n]:
             return None
@@ -523,7 +540,8 @@ class Facts(unittest.TestCase):
         """(3) Each edit that was told is in the state of some house, or on some disk, unless disks were ruined."""
         if any(slow.ruined.values()) or slow.lives > slow.many:
             return
-        told = [(slow.houses[it[1]].life, it[2][0]) for _, it in world.told() if it[0] == "told" and type(it[2][0]) is int]
+        told = [(slow.houses[it[1]].life, it[2][0]) for _, it in world.told() if it[0] == "told"
+                and type(it[2][0]) is int]
         lasting = []
         for n in slow.houses:
             house = world.house(n) or house_at(S, P, self.disk_of(world, n).copy())
