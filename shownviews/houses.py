@@ -124,7 +124,12 @@ class House:
         self._check_up()
         if not is_letter(self._schema, letter) or letter[1] == self._holding.life():
             raise NoLetter()
-        told = self._heard(letter)
+        try:
+            told = self._heard(letter)
+        except TooSmall:
+            # What was done ahead stays done, and who asks where the house stands is told of it.
+            self._store.sure()
+            raise
         if told:
             self._store.sure()
         self._lead_view()
@@ -195,7 +200,9 @@ class House:
             self._aside.lay(edit)
 
     def _do_came(self, edit):
-        self._enter(f"came {edit_text(edit)}")
+        # A house that goes on rightly has all edits of its own; one that came would not be read as another's.
+        word = "mine" if edit[0] == self._holding.life() else "came"
+        self._enter(f"{word} {edit_text(edit)}")
         self._holding.do_edit(edit)
 
     def _do_aside(self):

@@ -396,6 +396,15 @@ class Hearing(unittest.TestCase):
             self.assertEqual((house.aside(), house.state()), ([], state_from(edits)))
             self.assertEqual(told_by(house_at(S, P, disk)), told_by(house))
 
+    def test_edits_of_its_own_life_that_come(self):
+        """However they came about: the house stands on its disk with them."""
+        house, disk = fresh()
+        self.assertEqual(house.hear(("edits", 9, (), tuple(chain(7, 2)))), [("have", 7, ((7, 2),))])
+        self.assertEqual(told_by(house_at(S, P, disk)), told_by(house))
+        self.assertEqual(house.write((), BRING), (3, ((7, 3),)))
+        self.assertEqual(house.hear(("edits", 9, (), tuple(chain(7, 3)))), [])
+        self.assertEqual(told_by(house_at(S, P, disk)), told_by(house))
+
     def test_the_least_aside_first(self):
         house, disk = fresh()
         waiting = [(9, 1, 9, ((8, 1),), BRING), (20, 1, 3, ((8, 1),), BRING), (10, 1, 3, ((8, 1),), BRING),
@@ -568,6 +577,9 @@ class Hearing(unittest.TestCase):
             self.assertEqual(house.rows("name"), tuple(deed[2] for deed in deeds[:many]))
             self.assertRaises(TooSmall, house.hear, ("edits", 9, (), tuple(edits[many:many + 1])))
             self.assertEqual(house.stands(), ((9, many),))
+            # Where it stands is told, so no fall may lose it.
+            self.assertEqual(disk.open_deeds(), ((), ()))
+            self.assertEqual(house_at(S, P, disk.copy()).stands(), ((9, many),))
             self.assertEqual(house.have(), ("have", 7, ((9, many),)))
             self.assertEqual(told_by(house_at(S, P, disk)), told_by(house))
         # One that was aside already stays there.

@@ -146,8 +146,12 @@ class Language(unittest.TestCase):
 
     def test_what_is_raised_and_caught(self):
         own = defined(TREES["errors"]) + ["NotRead"]
+        bare = [inner for _, node in walk(ast.ExceptHandler) for inner in ast.walk(node) if isinstance(inner, ast.Raise)]
         for name, node in walk(ast.Raise):
-            self.assertTrue(isinstance(node.exc, ast.Call) and node.exc.func.id in own, name)
+            if node.exc is None:
+                self.assertIn(node, bare, name)
+            else:
+                self.assertTrue(isinstance(node.exc, ast.Call) and node.exc.func.id in own, name)
         for name, node in walk(ast.ExceptHandler):
             for one in node.type.elts if isinstance(node.type, ast.Tuple) else [node.type]:
                 self.assertIn(one.id, own, name)
