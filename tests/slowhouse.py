@@ -4,7 +4,7 @@ from shownviews.errors import TooSmall
 from shownviews.papers import answer_of
 from shownviews.roots import root_number
 from shownviews.states import next_edit
-from tests.helpers import S, saw, state_from
+from tests.helpers import saw, state_from
 from tests.test_disks import slow_record
 from tests.test_texts import slow_edit, slow_mark, slow_state_text
 
@@ -102,14 +102,12 @@ class SlowHouse:
 
     def write(self, deed):
         edit = next_edit(self.state(), self.life, deed)
-        line = len(slow_record(1, f"mine {slow_edit(edit)}"))
         self.register.edits.append(edit)
         try:
             self.do(edit, "mine")
         except TooSmall:
             self.register.edits.remove(edit)
             raise
-        assert line > 0
         return (edit[1], self.mark)
 
     def ask(self, question):
@@ -178,6 +176,3 @@ class SlowHouse:
 def told_by(house):
     return (house.life(), house.state(), house.stands(), house.root(), house.kept(), house.gone(), house.aside(),
             house.faults())
-
-
-SCHEMA = S

@@ -5,8 +5,7 @@ import unittest
 from shownviews.books import bar
 from shownviews.disks import Disk, record
 from shownviews.errors import (BadKept, BadStore, Barred, Down, NoDeed, NoLetter, NoLife, NoMark, NoName, NoPattern,
-                               NoPrime, NoSchema, NoStore,
-                               NotYet, TooSmall)
+                               NoPrime, NoSchema, NoStore, NotYet, TooSmall)
 from shownviews.houses import House, house_at, house_text
 from shownviews.meanings import meaning
 from shownviews.nears import near

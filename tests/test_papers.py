@@ -16,11 +16,10 @@ from shownviews.showings import is_clash, read, root_of, shown
 from shownviews.states import State, tables, titles
 from shownviews.texts import read_state
 from shownviews.trees import Tree
-from tests.helpers import (ANY, FAR, NEAR, S, T, chances, deep, odd_things, parts_put_otherwise, rule, slow_rows,
-                           told_by,
+from tests.helpers import (ANY, FAR, NEAR, S, T, deep, odd_things, parts_put_otherwise, rule, slow_rows, told_by,
                            unchanged, v)
 from tests.slowly import fits, rows_of_all, slow_mix, slow_number, slow_plans, slow_rank, slow_texts
-from tests.test_lots import BOOK, NAMES, cases, random_plan
+from tests.test_lots import BOOK, cases, random_plan
 from tests.test_mixing import not_primes
 from tests.test_roots import led
 
